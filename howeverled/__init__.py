@@ -1,0 +1,1 @@
+"""Lines of credit between houses, and what can be paid over them."""

@@ -1,0 +1,91 @@
+"""Webs and splits as texts, and read from them."""
+
+from howeverled.checks import need, need_split
+from howeverled.errors import InvalidText
+
+FIGURES = "0123456789"
+
+
+def web_line(web):
+    """The web as a string."""
+    size, lines = web
+    return text_of(size, lines)
+
+
+def limits_line(web, split):
+    """The web as a string, with near and far of each line instead of its room."""
+    size, lines = web
+    need_split(web, split)
+    rows = [(one, other, near, room - near) for (one, other, room), near in zip(lines, split)]
+    return text_of(size, rows)
+
+
+def text_of(size, rows):
+    """The size and the rows, with a ; ahead of each row."""
+    parts = [str(size)]
+    for row in rows:
+        parts.append(" ".join([str(number) for number in row]))
+    return "; ".join(parts)
+
+
+def read_web(text):
+    """The web that the text tells."""
+    need(isinstance(text, str), "text")
+    size, rows = read_rows(text, 3)
+    return (size, tuple(rows))
+
+
+def read_limits(text):
+    """The web and the split that the text tells."""
+    need(isinstance(text, str), "text")
+    size, rows = read_rows(text, 4)
+    lines = [(one, other, near + far) for one, other, near, far in rows]
+    split = [near for _, _, near, _ in rows]
+    return ((size, tuple(lines)), tuple(split))
+
+
+def is_figures(field):
+    """True for a number as it is written, without a needless 0 ahead."""
+    if field == "" or not all([sign in FIGURES for sign in field]):
+        return False
+    return field == "0" or field[0] != "0"
+
+
+def read_rows(text, width):
+    """The size, and the rows of as many numbers as the width tells."""
+    fields = text.split(" ")
+    size, due = read_size(fields[0])
+    rows = []
+    row = []
+    for place, field in enumerate(fields[1:], start=1):
+        ends = len(row) == width - 1
+        more = ends and field.endswith(";")
+        figures = field[:-1] if more else field
+        if not due or not is_figures(figures) or not may_follow(size, row, int(figures), ends):
+            raise InvalidText(0, place)
+        row.append(int(figures))
+        if ends:
+            rows.append(tuple(row))
+            row = []
+            due = more
+    if due:
+        raise InvalidText(0, len(fields))
+    return (size, rows)
+
+
+def read_size(field):
+    """The size, and whether a row is due behind it: then there are two houses."""
+    due = field.endswith(";")
+    figures = field[:-1] if due else field
+    if not is_figures(figures) or int(figures) < (2 if due else 1):
+        raise InvalidText(0, 0)
+    return (int(figures), due)
+
+
+def may_follow(size, row, number, ends):
+    """True if some line's row begins with the row and then the number."""
+    if len(row) == 0:
+        return number < size - 1
+    if len(row) == 1:
+        return row[0] < number < size
+    return not ends or sum(row[2:]) + number >= 1

@@ -1,0 +1,274 @@
+"""For each parameter that may be any value: what is not as stated is named, and of two the first one."""
+
+import importlib
+import inspect
+import unittest
+from itertools import combinations
+
+from reckon import RING, ROW
+from howeverled.errors import NotUsable
+from howeverled.momentclasses import Moment
+from howeverled.webclasses import Web
+
+BOTH = (None, True, False, "0", "", (), [], (None,), [0], ((), ()))
+LISTS = ((0, 1, 2, 3), [0, 1, 2], [0, 0, 0], "012", None, 3, (0, 1, True), (0, 1, None), True)
+
+# What is wrong for each kind of parameter on ROW, on which there are houses 0 to 2 and lines 0 and 1.
+WRONG = {
+    "house": (*BOTH, -1, 3, 10 ** 30, (0,)),
+    "other": (*BOTH, -1, 3, 0, (1,)),
+    "line": (*BOTH, -1, 2, (0,)),
+    "lot": (None, 0, True, "01", [0], [], (1, 0), (0, 0), (0, 3), (-1,), (True,), (False, 1), ((0,),), (0, None)),
+    "some_lot": ((), None, 0, True, [0], (1, 0), (0, 0), (0, 3), (-1,), (False, 1)),
+    "coins": (*BOTH, 0, -1, -(10 ** 30), (1,)),
+    "room": (*BOTH, -1, (1,)),
+    "many": (*BOTH, -1, 4),
+    "split": (*LISTS, (), (3, 0), (0, 4), (-1, 0), (0,), [2, 0], (True, 0), (0, None)),
+    "near": (*BOTH, -1, 1, 3, (2,)),
+    "standing": (*LISTS, (0, 0), (2, 0, 4), (2, 0, 2), (3, 0, 2), (0, 0, 5), (-1, 3, 3), [2, 0, 3], (2, False, 3), (2, 3),
+                 (2, 0, 3, 0)),
+    "held": ((0, 0), (0, 0, 0, 0), [0, 0, 0], None, 5, (3, 0, 0), (0, 6, 0), (0, 0, 4), (0, -1, 0), (0, True, 0)),
+    "integers": ((0, 0), (0, 0, 0, 0), [0, 0, 0], None, 5, (0, True, 0), (0, None, 0), (0, "1", 0), ((0,), 0, 0)),
+    "order": ((0, 1), (0, 1, 2, 0), (0, 1, 1), (0, 1, 3), (-1, 0, 1), [0, 1, 2], None, 3, (0, True, 2), (False, 1, 2)),
+    "sides": (("out", "out"), ("out",) * 4, ["out"] * 3, None, "out", ("out", "in", "up"), ("out", "in", None),
+              ("out", "in", True), ("out", "in", ("in",))),
+    "rule": (None, "", "one", "Short", 0, ("short",), True, "short "),
+    "leading": (None, (), [(1, (0,))], ((1, (0,)), (1, (0,))), ((2, (0,)),), ((True, (0,)),), ((1, (1,)),), ((1, ()),)),
+    "way": (None, (), [0], (0, 0), (1,), (0, 1, 0), (True,), (2,), 0, "0"),
+    "batch": (None, [], [(0, 1, 1)], ((0, 1),), ((0, 1, 1, 1),), ([0, 1, 1],), ((0, 0, 1),), ((0, 3, 1),), ((0, 1, 0),),
+              ((-1, 1, 1),), ((0, 1, True),), ((False, 1, 1),), ((0, 1, 1), None), 5),
+    "log": (None, [], [()], "log", 3, True),
+    "marks": (*LISTS, (), (3, 0), (0, 4), (-1, 0), (0,), [1, 0], (True, 0), (0, None)),
+    "web": (None, 3, (), (3,), [3, ()], (0, ()), (True, ()), (3, []), (2, ((1, 0, 1),)), (2, ((0, 1, 0),)), Web(2)),
+    "quotient": (*BOTH, 1, (2, 4), (0, 2), (1, 0), (1, -1), (1, True), (True, 1), [1, 2], (1, 2, 3)),
+    "divisor": (*BOTH, 1, (0, 1), (2, 4), (1, 0), [1, 2]),
+    "integer": (*BOTH, (1,), (1, 2)),
+    "not_nought": (*BOTH, 0, (1,)),
+    "joining": ((0, 0), (0, 0, 0, 0), (0, 0, 1), (1, 1, 2), (0, 2, 2), [0, 1, 2], None, 0, (0, 1, True), (False, 1, 2)),
+    "joining_two": ((0,), (0, 0, 0), (0, 2), (1, 1), [0, 0], None, (0, True), (0, False), ()),
+    "lots": (None, [], ((0, 1),), ((0,), (1,), (2,), ()), ((0, 1), (1, 2)), ((0, 1, 2, 3),), ([0, 1, 2],), ((1, 0), (2,)),
+             ((0, 1), (True,), (2,)), (), ((0,), (1,)), 3),
+    "text": (None, 3, True, ("3",), ["3"], ()),
+}
+
+# Each function: its file, and the parameters with a right value and a kind; None where nothing is refused.
+CASES = (
+    ("quotients", "quotient_of", (("top", 2, "integer"), ("bottom", 4, "not_nought"))),
+    ("quotients", "plus", (("one", (1, 2), "quotient"), ("other", (1, 3), "quotient"))),
+    ("quotients", "minus", (("one", (1, 2), "quotient"), ("other", (1, 3), "quotient"))),
+    ("quotients", "times", (("one", (1, 2), "quotient"), ("other", (1, 3), "quotient"))),
+    ("quotients", "over", (("one", (1, 2), "quotient"), ("other", (1, 3), "divisor"))),
+    ("quotients", "less", (("one", (1, 2), "quotient"), ("other", (1, 3), "quotient"))),
+    ("joinings", "joinings_of", (("many", 3, None),)),
+    ("joinings", "blocks_of", (("many", 3, None), ("joining", (0, 1, 0), "joining"))),
+    ("joinings", "joining_of", (("many", 3, None), ("lots", ((0, 2), (1,)), "lots"))),
+    ("joinings", "joined_with", (("many", 3, None), ("joining", (0, 1, 0), "joining"),
+                                 ("other", (0, 0, 2), "joining"))),
+    ("webs", "rooms_of", (("web", ROW, None),)),
+    ("webs", "hold_of", (("web", ROW, None), ("house", 1, "house"))),
+    ("webs", "within_of", (("web", ROW, None), ("lot", (0, 1), "lot"))),
+    ("webs", "bond_of", (("web", ROW, None), ("here", 0, "house"), ("there", 1, "other"))),
+    ("webs", "clubs_of", (("web", ROW, None),)),
+    ("webs", "hangs_together", (("web", ROW, None),)),
+    ("webchanges", "kept_to", (("web", ROW, None), ("lot", (0, 1), "some_lot"))),
+    ("webchanges", "without_line", (("web", ROW, None), ("line", 1, "line"))),
+    ("webchanges", "made_one", (("web", ROW, None), ("here", 0, "house"), ("there", 1, "other"))),
+    ("webchanges", "made_by", (("web", ROW, None), ("joining", (0, 1, 0), "joining"))),
+    ("webchanges", "with_line", (("web", ROW, None), ("here", 0, "house"), ("there", 2, "other"),
+                                 ("room", 4, "room"))),
+    ("webchanges", "renamed", (("web", ROW, None), ("order", (2, 0, 1), "order"))),
+    ("webchanges", "beside", (("web", ROW, None), ("other", RING, "web"))),
+    ("splits", "purses_of", (("web", ROW, None), ("split", (2, 0), "split"))),
+    ("splits", "ends_at", (("web", ROW, None), ("split", (2, 0), "split"), ("house", 1, "house"))),
+    ("splits", "turned_over", (("web", ROW, None), ("split", (2, 0), "split"))),
+    ("splits", "turned_purses", (("web", ROW, None), ("purses", (2, 5, 0), "held"))),
+    ("rings", "is_way", (("web", ROW, None), ("here", 0, "house"), ("there", 1, "other"), ("thing", (0,), None))),
+    ("rings", "is_ring", (("web", ROW, None), ("house", 0, "house"), ("thing", (0,), None))),
+    ("rings", "led_along", (("web", ROW, None), ("split", (2, 0), "split"), ("house", 0, "house"),
+                            ("way", (0,), "way"), ("coins", 2, "coins"))),
+    ("turnpapers", "turns_between", (("web", ROW, None), ("split", (2, 0), "split"), ("other", (2, 0), "split"))),
+    ("turnpapers", "lets_turns", (("web", ROW, None), ("split", (2, 0), "split"), ("thing", (), None))),
+    ("webtexts", "web_line", (("web", ROW, None),)),
+    ("webtexts", "limits_line", (("web", ROW, None), ("split", (2, 0), "split"))),
+    ("webtexts", "read_web", (("text", "2; 0 1 1", "text"),)),
+    ("webtexts", "read_limits", (("text", "2; 0 1 1 0", "text"),)),
+    ("slacks", "slack_of", (("web", ROW, None), ("purses", (-2, 0, 9), "integers"), ("lot", (0, 2), "lot"))),
+    ("slacks", "is_standing", (("web", ROW, None), ("thing", (2, 0, 3), None))),
+    ("slacks", "shut_lots", (("web", ROW, None), ("purses", (2, 0, 3), "standing"))),
+    ("slacks", "short_lot", (("web", ROW, None), ("purses", (-2, 0, 9), "integers"))),
+    ("standings", "some_split", (("web", ROW, None), ("purses", (2, 0, 3), "standing"))),
+    ("mosts", "most_of", (("web", ROW, None), ("purses", (2, 0, 3), "standing"), ("here", 0, "house"),
+                          ("there", 1, "other"))),
+    ("mosts", "bar_of", (("web", ROW, None), ("purses", (2, 0, 3), "standing"), ("here", 0, "house"),
+                         ("there", 1, "other"))),
+    ("mosts", "most_table", (("web", ROW, None), ("purses", (2, 0, 3), "standing"))),
+    ("reaches", "reach_of", (("web", ROW, None), ("purses", (2, 0, 3), "standing"), ("house", 0, "house"))),
+    ("reaches", "payers_of", (("web", ROW, None), ("purses", (2, 0, 3), "standing"), ("house", 0, "house"))),
+    ("reaches", "peel_of", (("web", ROW, None), ("purses", (2, 0, 3), "standing"), ("order", (2, 0, 1), "order"))),
+    ("reaches", "peel_either", (("web", ROW, None), ("purses", (2, 0, 3), "standing"), ("order", (2, 0, 1), "order"),
+                                ("sides", ("in", "out", "in"), "sides"))),
+    ("reaches", "classes_of", (("web", ROW, None), ("purses", (2, 0, 3), "standing"), ("coins", 1, "coins"))),
+    ("leading", "lead", (("web", ROW, None), ("split", (2, 0), "split"), ("payer", 0, "house"), ("payee", 1, "other"),
+                         ("coins", 1, "coins"), ("rule", "wide", "rule"))),
+    ("leading", "led_split", (("web", ROW, None), ("split", (2, 0), "split"), ("payer", 0, "house"),
+                              ("payee", 1, "other"), ("coins", 1, "coins"), ("leading", ((1, (0,)),), "leading"))),
+    ("ledchecker", "lets_leading", (("web", ROW, None), ("split", (2, 0), "split"), ("payer", 0, "house"),
+                                    ("payee", 1, "other"), ("coins", 1, "coins"), ("thing", ((1, (0,)),), None))),
+    ("ledchecker", "follows_rule", (("web", ROW, None), ("split", (2, 0), "split"), ("payer", 0, "house"),
+                                    ("payee", 1, "other"), ("coins", 1, "coins"), ("rule", "ones", "rule"),
+                                    ("leading", None, None))),
+    ("batches", "net_of", (("size", 3, None), ("batch", ((0, 1, 1),), "batch"))),
+    ("batches", "can_settle", (("web", ROW, None), ("purses", (2, 0, 3), "standing"), ("batch", ((0, 1, 1),), "batch"))),
+    ("batches", "settled", (("web", ROW, None), ("purses", (2, 0, 3), "standing"), ("batch", ((0, 1, 1),), "batch"))),
+    ("batches", "settle", (("web", ROW, None), ("split", (2, 0), "split"), ("batch", ((0, 1, 1),), "batch"))),
+    ("spans", "span_of", (("web", ROW, None), ("purses", (2, 0, 3), "standing"), ("line", 0, "line"))),
+    ("spans", "split_holding", (("web", ROW, None), ("purses", (2, 0, 3), "standing"), ("line", 0, "line"),
+                                ("near", 2, "near"))),
+    ("records", "judged_log", (("web", ROW, None), ("split", (2, 0), "split"), ("log", (), "log"))),
+    ("momentclasses", "Moment", (("web", ROW, "web"), ("purses", (2, 0, 3), "standing"))),
+    ("forestweights", "breadth_of", (("web", ROW, None),)),
+    ("forestweights", "forest_weight", (("web", ROW, None),)),
+    ("forestweights", "tree_weight", (("web", ROW, None),)),
+    ("forestweights", "signed_weight", (("web", ROW, None),)),
+    ("forestweights", "weights_by_lines", (("web", ROW, None),)),
+    ("foresttables", "frontier_of", (("web", ROW, None), ("order", (1, 0, 2), "order"), ("many", 2, "many"))),
+    ("foresttables", "tables_of", (("web", ROW, None), ("order", (1, 0, 2), "order"))),
+    ("foresttables", "lets_tables", (
+        ("web", ROW, None), ("order", (1, 0, 2), "order"),
+        ("thing", ((((), 1),), (((0,), 1),), (((0,), 3),), (((), 12),)), None))),
+    ("joinedweights", "joined_weight", (("web", ROW, None), ("lot", (0, 1), "lot"))),
+    ("joinedweights", "club_weight", (("web", ROW, None), ("house", 0, "house"), ("lot", (0, 1), "lot"))),
+    ("joinedweights", "joining_weight", (("web", ROW, None), ("lot", (0, 1), "lot"),
+                                         ("joining", (0, 1), "joining_two"))),
+    ("markkinds", "is_marked", (("web", ROW, None), ("thing", (0, 1), None))),
+    ("markkinds", "lines_of", (("web", ROW, None), ("marks", (0, 1), "marks"))),
+    ("marking", "marked_of", (("web", ROW, None), ("purses", (2, 0, 3), "standing"), ("root", 1, "house"))),
+    ("marking", "standing_of", (("web", ROW, None), ("marks", (0, 1), "marks"), ("root", 1, "house"))),
+    ("markpapers", "mark_paper", (("web", ROW, None), ("purses", (2, 0, 3), "standing"), ("root", 1, "house"))),
+    ("markpapers", "lets_marks", (("web", ROW, None), ("purses", (2, 0, 3), "standing"), ("root", 1, "house"),
+                                  ("thing", ((1, 0, 0), (0, 0, 0)), None))),
+    ("kinds", "is_integer", (("thing", None, None),)),
+    ("kinds", "is_number", (("thing", None, None),)),
+    ("kinds", "is_quotient", (("thing", None, None),)),
+    ("kinds", "is_lot", (("size", 3, None), ("thing", None, None))),
+    ("kinds", "is_purses", (("size", 3, None), ("thing", None, None))),
+    ("kinds", "is_joining", (("many", 3, None), ("thing", None, None))),
+    ("kinds", "is_web", (("thing", None, None),)),
+    ("kinds", "is_split", (("web", ROW, None), ("thing", None, None))),
+    ("webchecker", "lets_web", (("thing", ROW, None),)),
+    ("splits", "all_splits", (("web", ROW, None),)),
+)
+
+
+def found(module, name):
+    return getattr(importlib.import_module("howeverled." + module), name)
+
+
+class WrongInputs(unittest.TestCase):
+    def named(self, function, arguments, word):
+        with self.assertRaises(NotUsable) as caught:
+            function(**arguments)
+        told = (function.__name__, arguments)
+        self.assertEqual((caught.exception.word, caught.exception.at), (word, -1), told)
+
+    def test_one_wrong(self):
+        for module, name, parameters in CASES:
+            function = found(module, name)
+            right = {word: value for word, value, _ in parameters}
+            for word, _, kind in parameters:
+                for wrong in WRONG.get(kind, ()):
+                    self.named(function, {**right, word: wrong}, word)
+
+    def test_two_wrong(self):
+        for module, name, parameters in CASES:
+            function = found(module, name)
+            right = {word: value for word, value, _ in parameters}
+            checked = [(word, kind) for word, _, kind in parameters if kind is not None]
+            for (first, kind), (second, other) in combinations(checked, 2):
+                for wrong in WRONG[kind][:4]:
+                    for worse in WRONG[other][-4:]:
+                        self.named(function, {**right, first: wrong, second: worse}, first)
+
+    def test_by_position_and_by_name(self):
+        for module, name, parameters in CASES:
+            function = found(module, name)
+            values = [value for _, value, _ in parameters]
+            one = function(*values)
+            other = function(**{word: value for word, value, _ in parameters})
+            if inspect.isgenerator(one):
+                one, other = list(one), list(other)
+            self.assertEqual(one, other)
+            self.assertIs(type(one), type(other))
+
+    def test_defined_where_the_interface_lists_them(self):
+        for module, name, parameters in CASES:
+            function = found(module, name)
+            self.assertEqual(function.__module__, "howeverled." + module)
+            names = [one for one in inspect.signature(function).parameters]
+            self.assertEqual(names, [word for word, _, _ in parameters])
+
+    def test_methods_stand_in_their_classes(self):
+        listed = {
+            Web: {"bond": ["here", "there"], "hold": ["house"], "kept": ["lot"], "merged": ["here", "there"],
+                  "with_new": ["here", "there", "room"], "told": []},
+            Moment: {"can": ["payer", "payee", "coins"], "most": ["here", "there"], "reach": ["house"],
+                     "pay": ["payer", "payee", "coins"], "span": ["line"], "told": []},
+        }
+        for made, methods in listed.items():
+            for name, words in methods.items():
+                told = list(inspect.signature(vars(made)[name]).parameters)
+                self.assertEqual(told, ["self", *words])
+
+    def test_methods_of_moments(self):
+        moment = Moment(ROW, (2, 0, 3))
+        cases = (
+            (moment.can, (("payer", 0, "house"), ("payee", 1, "other"), ("coins", 1, "coins"))),
+            (moment.pay, (("payer", 0, "house"), ("payee", 1, "other"), ("coins", 1, "coins"))),
+            (moment.most, (("here", 0, "house"), ("there", 1, "other"))),
+            (moment.reach, (("house", 0, "house"),)),
+            (moment.span, (("line", 0, "line"),)),
+        )
+        for method, parameters in cases:
+            right = {word: value for word, value, _ in parameters}
+            method(**right)
+            for word, _, kind in parameters:
+                for wrong in WRONG[kind]:
+                    self.named(method, {**right, word: wrong}, word)
+            for (first, _, kind), (second, _, other) in combinations(parameters, 2):
+                self.named(method, {**right, first: WRONG[kind][0], second: WRONG[other][0]}, first)
+
+    def test_methods_of_webs(self):
+        web = Web(3, (0, 1, 2), (1, 2, 3))
+        cases = (
+            (web.bond, (("here", 0, "house"), ("there", 1, "other"))),
+            (web.hold, (("house", 0, "house"),)),
+            (web.kept, (("lot", (0, 1), "some_lot"),)),
+            (web.merged, (("here", 0, "house"), ("there", 1, "other"))),
+            (web.with_new, (("here", 0, "house"), ("there", 1, "other"), ("room", 4, "room"))),
+        )
+        for method, parameters in cases:
+            right = {word: value for word, value, _ in parameters}
+            method(**right)
+            for word, _, kind in parameters:
+                for wrong in WRONG[kind]:
+                    self.named(method, {**right, word: wrong}, word)
+
+    def test_any_value_is_told_of(self):
+        """Functions that only tell take whatever there is, and give True or False."""
+        deep = ()
+        for _ in range(29):
+            deep = (deep, [deep])
+            if len(repr(deep)) > 4000:
+                deep = (0,)
+        values = (*BOTH, deep, 10 ** 60, -(10 ** 59), "a\nb", (3, (((),),)), Web(2), ["x"] * 50)
+        for module, name, parameters in CASES:
+            if not name.startswith("is_"):
+                continue
+            function = found(module, name)
+            right = {word: value for word, value, _ in parameters}
+            for value in values:
+                self.assertIs(type(function(**{**right, "thing": value})), bool)
+
+
+if __name__ == "__main__":
+    unittest.main()
