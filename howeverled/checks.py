@@ -25,7 +25,7 @@ def is_line(web, thing):
 
 def is_rule(thing):
     """True for the name of a rule."""
-    return isinstance(thing, str) and thing in RULES
+    return thing in RULES
 
 
 def is_payment(size, payer, payee, coins):

@@ -35,19 +35,17 @@ def shortest_ways(lines, near, starts):
 
 
 def widest_way(lines, near, here, there):
-    """A pair: the most coins that can be led along one way, and such a way; (0, ()) if there is none."""
+    """A pair: the most coins that can be led along one way, and such a way; there is a way."""
     best = {here: (sum([room for _, _, room in lines]), ())}
     settled = {}
     while there not in settled:
         waiting = [house for house in best if house not in settled]
-        if not waiting:
-            return (0, ())
         house = max(waiting, key=lambda one: best[one][0])
         settled[house] = True
         width, way = best[house]
         for line, end, coins in steps_from(lines, near, house):
             wide = min(width, coins)
-            if end not in best or (end not in settled and wide > best[end][0]):
+            if end not in best or wide > best[end][0]:
                 best[end] = (wide, (*way, line))
     return best[there]
 
@@ -122,11 +120,12 @@ def levelled(lines, near, over):
         ends = [house for house in ways if left[house] < 0]
         if not ends:
             return (after, left, tuple(sorted(ways)))
-        start, way = ways[ends[0]]
-        coins = min(left[start], -left[ends[0]], width_along(lines, after, start, way))
+        end = ends[0]
+        start, way = ways[end]
+        coins = min(left[start], -left[end], width_along(lines, after, start, way))
         after = led(lines, after, start, way, coins)
         left[start] -= coins
-        left[ends[0]] += coins
+        left[end] += coins
 
 
 def level_to(size, lines, purses):

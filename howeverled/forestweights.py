@@ -24,8 +24,8 @@ def tree_weight(web):
 def signed_weight(web):
     """As the forest weight, with the sign changed for each line that a forest has less than a tree."""
     size, lines = web
-    # Rooms below 0 change the sign for each line that the forest has: as often,
-    # but for pairs of changes, once those of a whole tree are added.
+    # Rooms below 0 change the sign for each line that a forest has. With size - 1 changes more,
+    # those of a tree, it is as if each line that it lacks had changed it: two changes are none.
     below = [(one, other, -room) for one, other, room in lines]
     weight = sum(forest_sums(size, below, [NONE] * size, 0))
     return weight if size & 1 else -weight

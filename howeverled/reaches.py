@@ -52,7 +52,7 @@ def peel_either(web, purses, order, sides):
 
 def are_sides(size, thing):
     """True for a tuple of "out" and "in", one for each house."""
-    return is_tuple_of(size, thing) and all([isinstance(side, str) and side in ("out", "in") for side in thing])
+    return is_tuple_of(size, thing) and all([side in ("out", "in") for side in thing])
 
 
 def peel_by(web, near, order, sides):

@@ -244,6 +244,14 @@ class Batches(unittest.TestCase):
                 for _ in range(4):
                     self.check(web, split, self.draw_batch(draw, web[0]), known)
 
+    def test_coins_that_would_come_back(self):
+        """House 0 pays over house 1, then coins of house 3 come by house 0: together they would go round."""
+        lines = ((0, 1, 1), (1, 2, 1), (0, 5, 3), (5, 6, 3), (3, 4, 3), (2, 4, 3), (0, 2, 2))
+        web = (7, lines)
+        known = standings(web)
+        for batch in (((0, 2, 1), (3, 6, 2)), ((0, 2, 1), (3, 6, 1)), ((3, 6, 2),), ((0, 6, 1), (3, 2, 2))):
+            self.check(web, (1, 1, 3, 3, 3, 0, 0), batch, known)
+
     def test_great_webs(self):
         for seed in range(10):
             web = great_web(seed)
