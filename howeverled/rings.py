@@ -26,9 +26,9 @@ def leads_to(web, here, there, thing):
 def leads_back(web, house, thing):
     """True for a ring from the house; the house is not checked."""
     houses = houses_by(web, house, thing)
-    if houses is None or len(thing) < 2 or len(set(thing)) < len(thing):
+    if houses is None or houses[-1] != house:
         return False
-    return houses[-1] == house and len(set(houses)) == len(thing)
+    return len(set(houses)) == len(thing) and len(set(thing)) == len(thing)
 
 
 def is_way(web, here, there, thing):

@@ -274,9 +274,8 @@ class Batches(unittest.TestCase):
         split, purses = some_standing(web, 2)
         batch = tuple((house, (house + 5) % 16, 7) for house in range(0, 16, 2))
         nets = net_of(16, batch)
-        if can_settle(web, purses, batch):
-            parts = settle(web, split, batch)
-            self.check_parts(web, split, nets, settled(web, purses, batch), parts)
+        self.assertIs(can_settle(web, purses, batch), True)
+        self.check_parts(web, split, nets, settled(web, purses, batch), settle(web, split, batch))
 
     def test_only_together(self):
         """No ask can be paid alone, both can be settled."""
@@ -340,6 +339,7 @@ class Records(unittest.TestCase):
             (("pay", 0, 1, 1), "shape"), ((None, 0, 1, 1), "shape"), ((("refused",), 0, 1, 1), "shape"),
             (("paid", 0, 1, 1), "shape"), (("paid", 0, 1, 1, ((1, (0,)),), 1), "shape"),
             (("refused", 0, 2), "shape"), (("refused", 0, 2, 1, ()), "shape"),
+            ((["refused"], 0, 2, 1), "shape"), (([], 0, 1, 1, ()), "shape"), ((True, 0, 1, 1), "shape"),
             (("refused", 3, 2, 1), "shape"), (("refused", 0, 0, 1), "shape"), (("refused", 0, 2, 0), "shape"),
             (("refused", False, 2, 1), "shape"), (("refused", 0, True, 1), "shape"),
             (("refused", 0, 2, True), "shape"), (("refused", 0, -1, 1), "shape"), (("refused", "0", 2, 1), "shape"),

@@ -233,6 +233,7 @@ class Moments(unittest.TestCase):
         moment = Moment(ROW, (2, 0, 3))
         self.assertIs(moment == Moment(ROW, (2, 0, 3)), True)
         self.assertIs(moment != Moment(ROW, (2, 0, 3)), False)
+        self.assertIs(moment == Moment((3, ((0, 2, 2), (1, 2, 3))), (2, 0, 3)), False)
         for other in (Moment(ROW, (1, 1, 3)), Moment(RING, (1, 1, 1)), (ROW, (2, 0, 3)), None, 0, "moment"):
             self.assertIs(moment == other, False)
             self.assertIs(moment != other, True)
