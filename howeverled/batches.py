@@ -1,15 +1,15 @@
 """Batches of asks, settled together."""
 
-from howeverled.checks import is_payment, need, need_split, need_standing
+from howeverled.askkinds import is_ask
+from howeverled.checks import need, need_split, need_standing
 from howeverled.errors import Refused
 from howeverled.flows import held_by, lessened, levelled, narrowest, walk_on
-from howeverled.kinds import is_tuple_of
 from howeverled.slacks import is_standing, short_lot
 
 
 def is_batch(size, thing):
     """True for a tuple of asks."""
-    return isinstance(thing, tuple) and all([is_tuple_of(3, ask) and is_payment(size, *ask) for ask in thing])
+    return isinstance(thing, tuple) and all([is_ask(size, ask) for ask in thing])
 
 
 def net_of(size, batch):

@@ -39,10 +39,10 @@ def need_pair(web, here, there):
     need(is_house(web[0], there) and there != here, "there")
 
 
-def need_payment(web, payer, payee, coins):
-    """The houses and the coins of a payment."""
-    need(is_house(web[0], payer), "payer")
-    need(is_house(web[0], payee) and payee != payer, "payee")
+def need_payment(size, payer, payee, coins):
+    """The houses, below size, and the coins of a payment."""
+    need(is_house(size, payer), "payer")
+    need(is_house(size, payee) and payee != payer, "payee")
     need(is_positive(coins), "coins")
 
 

@@ -172,3 +172,11 @@ def lessened(change, way, coins):
 def narrowest(change, way):
     """The most coins that go along the whole way by the change."""
     return min([abs(change[line]) for line in way])
+
+
+def paid_over(purses, payer, payee, coins):
+    """The purses behind a payment; whether it can be made is not asked."""
+    after = list(purses)
+    after[payer] -= coins
+    after[payee] += coins
+    return tuple(after)

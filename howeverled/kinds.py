@@ -36,6 +36,11 @@ def are_below(size, thing):
     return isinstance(thing, tuple) and all([is_number(one) and one < size for one in thing])
 
 
+def are_different(size, thing):
+    """True for a tuple of different numbers below size, at least one."""
+    return are_below(size, thing) and thing != () and len(set(thing)) == len(thing)
+
+
 def is_lot(size, thing):
     """True for an ascending tuple of houses below size."""
     return are_below(size, thing) and all([one < other for one, other in zip(thing, thing[1:])])

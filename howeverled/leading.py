@@ -12,7 +12,7 @@ def lead(web, split, payer, payee, coins, rule):
     """Any leading of the payment by the rule."""
     _, lines = web
     need_split(web, split)
-    need_payment(web, payer, payee, coins)
+    need_payment(web[0], payer, payee, coins)
     need(is_rule(rule), "rule")
     most, _ = most_led(lines, split, payer, payee)
     if most < coins:
@@ -46,7 +46,7 @@ def way_by(lines, near, payer, payee, rule):
 def led_split(web, split, payer, payee, coins, leading):
     """The split behind any leading of the payment."""
     need_split(web, split)
-    need_payment(web, payer, payee, coins)
+    need_payment(web[0], payer, payee, coins)
     fault, after = judged_leading(web, split, payer, payee, coins, leading)
     need(fault is None, "leading")
     return after

@@ -9,7 +9,7 @@ from howeverled.leading import judged_leading
 def lets_leading(web, split, payer, payee, coins, thing):
     """The split behind the thing, if it is a leading of the payment."""
     need_split(web, split)
-    need_payment(web, payer, payee, coins)
+    need_payment(web[0], payer, payee, coins)
     fault, after = judged_leading(web, split, payer, payee, coins, thing)
     if fault is not None:
         word, at = fault
@@ -21,7 +21,7 @@ def follows_rule(web, split, payer, payee, coins, rule, leading):
     """True if the leading is one of the payment by the rule."""
     _, lines = web
     need_split(web, split)
-    need_payment(web, payer, payee, coins)
+    need_payment(web[0], payer, payee, coins)
     need(is_rule(rule), "rule")
     fault, _ = judged_leading(web, split, payer, payee, coins, leading)
     if fault is not None:

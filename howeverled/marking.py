@@ -102,14 +102,19 @@ def standing_of(web, marks, root):
     """The standing whose marked forest, by the root, is this one."""
     need(is_marked(web, marks), "marks")
     need(is_house(web[0], root), "root")
+    return marked_purses(web, marks, root)
+
+
+def marked_purses(web, marks, root):
+    """As standing_of; nothing is checked."""
     purses = [0] * web[0]
     # Which lines are taken, and what goes with them, depends on the marks alone: from the end,
     # when nothing is left, the purses come back stage by stage. A line with the mark 0 lay at its
     # other house if the host can pay that one nothing without it; else, had it lain there, i would
     # have been from 1 up, and it lay at the host, for whom i is then above the room.
-    for before, after, host, house, room, mark in reversed(stages_of(web, marks, root)):
-        if mark > 0:
-            purses = purses_parted(before, after, purses, host, house, mark)
+    for line, before, after, host, house, room in reversed(stages_of(web, marks, root)):
+        if marks[line] > 0:
+            purses = purses_parted(before, after, purses, host, house, marks[line])
         elif most_at(after, purses, host, house) == 0:
             purses[house] += room
         else:
@@ -118,7 +123,7 @@ def standing_of(web, marks, root):
 
 
 def stages_of(web, marks, root):
-    """For each line taken: the rows before and after, the host, the line's other end, its room and its mark."""
+    """For each line taken: its place, the rows before and after, the host, the line's other end, and its room."""
     taking = Taking(web, root)
     stages = []
     taken = taking.taken()
@@ -130,7 +135,7 @@ def stages_of(web, marks, root):
             taking.merge(house)
         else:
             taking.let_go(line)
-        stages.append((before, taking.rows, host, house, room, marks[line]))
+        stages.append((line, before, taking.rows, host, house, room))
         taken = taking.taken()
     return stages
 

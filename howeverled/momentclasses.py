@@ -2,6 +2,7 @@
 
 from howeverled.checks import need, need_payment, need_standing
 from howeverled.errors import Refused
+from howeverled.flows import paid_over
 from howeverled.kinds import is_web
 from howeverled.mosts import bar_of, most_of
 from howeverled.reaches import reach_of
@@ -19,7 +20,7 @@ class Moment:
 
     def can(self, payer, payee, coins):
         """True if the payer can pay the payee the coins."""
-        need_payment(self._web, payer, payee, coins)
+        need_payment(self._web[0], payer, payee, coins)
         return most_of(self._web, self._purses, payer, payee) >= coins
 
     def most(self, here, there):
@@ -34,10 +35,7 @@ class Moment:
         """A new Moment with the purses behind the payment."""
         if not self.can(payer, payee, coins):
             raise Refused(bar_of(self._web, self._purses, payer, payee))
-        purses = list(self._purses)
-        purses[payer] -= coins
-        purses[payee] += coins
-        return Moment(self._web, tuple(purses))
+        return Moment(self._web, paid_over(self._purses, payer, payee, coins))
 
     def span(self, line):
         """As span_of."""

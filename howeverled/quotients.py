@@ -28,6 +28,14 @@ def plus(one, other):
     return quotient_of(one[0] * other[1] + other[0] * one[1], one[1] * other[1])
 
 
+def added_up(quotients):
+    """The sum of all of them."""
+    total = (0, 1)
+    for quotient in quotients:
+        total = plus(total, quotient)
+    return total
+
+
 def minus(one, other):
     """The other one taken off one."""
     need_both(one, other)

@@ -23,13 +23,18 @@ def is_standing(web, thing):
     return near_of(web, thing) is not None
 
 
+def lots_of(size):
+    """All lots of so many houses, ascending."""
+    lots = [()]
+    for house in range(size):
+        lots = lots + [(*lot, house) for lot in lots]
+    return sorted(lots)
+
+
 def shut_lots(web, purses):
     """All shut lots, ascending."""
     need_standing(web, purses)
-    lots = [()]
-    for house in range(web[0]):
-        lots = lots + [(*lot, house) for lot in lots]
-    return tuple(sorted([lot for lot in lots if slack_of(web, purses, lot) == 0]))
+    return tuple([lot for lot in lots_of(web[0]) if slack_of(web, purses, lot) == 0])
 
 
 def short_lot(web, purses):

@@ -45,8 +45,12 @@ def order_for(size, lines):
     return min([own, order], key=lambda one: breadth_by(lines, one))
 
 
-def sweep(lines, order, labels, step):
-    """The tables before the first house of the order, and behind each one."""
+def sweep(lines, order, labels, step, again=1):
+    """The tables before the first house of the order, and behind each one.
+
+    again is 1; with 0 a forest counts only if no line leads between two
+    houses that its lines before have joined already.
+    """
     table = {((), ()): [1]}
     tables = [table]
     frontier = []
@@ -59,7 +63,7 @@ def sweep(lines, order, labels, step):
         # A house goes at once behind its last line: the fewer are held, the fewer states there are.
         for other in (*before, house):
             for room in rooms_between(lines, house, other):
-                table = with_line(table, held.index(house), held.index(other), room, step)
+                table = with_line(table, held.index(house), held.index(other), room, step, again)
             if other not in frontier:
                 table = without_house(table, held.index(other), awaited)
                 held = [one for one in held if one != other]
@@ -79,6 +83,16 @@ def forest_sums(size, lines, labels, step):
     return table.get(((), ()), [0])
 
 
+def directed_ways(size, pairs):
+    """How many ways there are to direct lines between these pairs so that no row of them leads back to its start.
+
+    There are as many as forests that hold no broken ring: a ring without its last line.
+    """
+    lines = [(one, other, 1) for one, other in pairs]
+    table = sweep(lines, order_for(size, lines), [NONE] * size, 0, 0)[-1]
+    return sum(table[((), ())])
+
+
 def joining_like(values):
     """The joining of the places with the same value."""
     return tuple([values.index(value) for value in values])
@@ -94,9 +108,9 @@ def with_house(table, place, label):
     return grown
 
 
-def with_line(table, here, there, room, step):
+def with_line(table, here, there, room, step, again):
     """The table with a line between the houses at two places of the frontier."""
-    grown = {key: weights for key, weights in table.items()}
+    grown = {key: weights for key, weights in table.items() if again == 1 or key[0][here] != key[0][there]}
     for (joining, marks), weights in table.items():
         key = state_joined(joining, marks, here, there)
         if key is not None:

@@ -53,6 +53,14 @@ def bond_of(web, here, there):
     return sum([room for one, other, room in web[1] if here in (one, other) and there in (one, other)])
 
 
+def bonds_by(lines):
+    """The bond for any two houses, the lesser one first, that are linked by these lines."""
+    bonds = {}
+    for one, other, room in lines:
+        bonds[one, other] = bonds.get((one, other), 0) + room
+    return bonds
+
+
 def clubs_of(web):
     """All clubs, by their least house."""
     size, lines = web

@@ -31,14 +31,14 @@ def text_of(size, rows):
 def read_web(text):
     """The web that the text tells."""
     need(isinstance(text, str), "text")
-    size, rows = read_rows(text, 3)
+    size, rows = read_sized(text, 3)
     return (size, tuple(rows))
 
 
 def read_limits(text):
     """The web and the split that the text tells."""
     need(isinstance(text, str), "text")
-    size, rows = read_rows(text, 4)
+    size, rows = read_sized(text, 4)
     lines = [(one, other, near + far) for one, other, near, far in rows]
     split = [near for _, _, near, _ in rows]
     return ((size, tuple(lines)), tuple(split))
@@ -51,17 +51,27 @@ def is_figures(field):
     return field == "0" or field[0] != "0"
 
 
-def read_rows(text, width):
+def read_sized(text, width):
     """The size, and the rows of as many numbers as the width tells."""
     fields = text.split(" ")
     size, due = read_size(fields[0])
+    rows = read_rows(fields, 1, due, width, lambda _, row, number: may_follow(size, width, row, number))
+    return (size, rows)
+
+
+def read_rows(fields, start, due, width, can_follow):
+    """The rows of as many numbers as the width tells, from a field on; behind each but the last is a ;.
+
+    due is True if there is a row at all. can_follow tells whether the number
+    can stand behind the rows before and the numbers of its own row.
+    """
     rows = []
     row = []
-    for place, field in enumerate(fields[1:], start=1):
+    for place, field in enumerate(fields[start:], start=start):
         ends = len(row) == width - 1
         more = ends and field.endswith(";")
         figures = field[:-1] if more else field
-        if not due or not is_figures(figures) or not may_follow(size, row, int(figures), ends):
+        if not due or not is_figures(figures) or not can_follow(rows, row, int(figures)):
             raise InvalidText(0, place)
         row.append(int(figures))
         if ends:
@@ -70,7 +80,7 @@ def read_rows(text, width):
             due = more
     if due:
         raise InvalidText(0, len(fields))
-    return (size, rows)
+    return rows
 
 
 def read_size(field):
@@ -82,10 +92,10 @@ def read_size(field):
     return (int(figures), due)
 
 
-def may_follow(size, row, number, ends):
-    """True if some line's row begins with the row and then the number."""
+def may_follow(size, width, row, number):
+    """True if some line's row, as wide as told, begins with the row and then the number."""
     if len(row) == 0:
         return number < size - 1
     if len(row) == 1:
         return row[0] < number < size
-    return not ends or sum(row[2:]) + number >= 1
+    return len(row) < width - 1 or sum(row[2:]) + number >= 1

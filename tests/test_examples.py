@@ -2,8 +2,19 @@
 
 import unittest
 
+from howeverled.allcounts import all_pay_count, class_count, class_table, neither_count
+from howeverled.askchanges import asks_both, asks_of, line_asks
+from howeverled.askkinds import asks_weight, weight_in
+from howeverled.asktexts import asks_line, read_asks
+from howeverled.balances import bent_run, gap_at
 from howeverled.batches import net_of, settle, settled
-from howeverled.errors import InvalidPaper, InvalidText
+from howeverled.chaincounts import busy_count, chain_count
+from howeverled.claimkinds import is_claim
+from howeverled.claims import claim_count, claims_alike, claims_apart, holds_at
+from howeverled.claimtexts import claim_line, read_claim
+from howeverled.errors import InvalidPaper, InvalidText, Parted
+from howeverled.fitpapers import fit_paper, lets_fit
+from howeverled.forestclasses import Forests
 from howeverled.forestweights import breadth_of, forest_weight, signed_weight, tree_weight, weights_by_lines
 from howeverled.foresttables import frontier_of, tables_of
 from howeverled.joinedweights import club_weight, joined_weight, joining_weight
@@ -11,28 +22,43 @@ from howeverled.joinings import blocks_of, joined_with, joining_of, joinings_of
 from howeverled.kinds import is_joining, is_lot, is_quotient
 from howeverled.leading import lead, led_split
 from howeverled.ledchecker import follows_rule, lets_leading
+from howeverled.linemeans import line_shares, lines_mean, purse_mean
+from howeverled.longruns import long_run
 from howeverled.marking import marked_of, standing_of
 from howeverled.markkinds import is_marked, lines_of
 from howeverled.markpapers import mark_paper
 from howeverled.momentclasses import Moment
 from howeverled.mosts import bar_of, most_of, most_table
+from howeverled.numbering import next_standing, number_of, standing_at
+from howeverled.pairshares import refused_count, refused_share, refused_table
 from howeverled.quotients import over, plus, quotient_of
+from howeverled.reachcounts import joined_count, peel_count, reach_mean, reach_table
 from howeverled.reaches import classes_of, payers_of, peel_either, peel_of, reach_of
 from howeverled.records import judged_log
 from howeverled.rings import led_along
+from howeverled.runclasses import Run
+from howeverled.running import run_of
+from howeverled.shareclasses import Shares
 from howeverled.slacks import short_lot, shut_lots, slack_of
 from howeverled.spans import span_of, split_holding
 from howeverled.splits import all_splits, ends_at, purses_of, turned_over, turned_purses
+from howeverled.standinglists import all_standings, standings_from
 from howeverled.standings import some_split
+from howeverled.stretches import stretch_at, stretch_of, stretch_table
 from howeverled.turnpapers import lets_turns
+from howeverled.waits import waits_of
 from howeverled.webchanges import beside, kept_to, made_by, renamed
 from howeverled.webchecker import lets_web
 from howeverled.webs import clubs_of, hold_of, within_of
 from howeverled.webtexts import limits_line, read_web, web_line
+from howeverled.wides import layered
+from howeverled.witnesses import lets_witness
 
 RING = (3, ((0, 1, 1), (0, 2, 1), (1, 2, 1)))
 ROW = (3, ((0, 1, 2), (1, 2, 3)))
 TWICE = (2, ((0, 1, 1), (0, 1, 2)))
+ONE = (2, ((0, 1, 1),))
+ASKED = ((0, 1, 1, 3), (1, 0, 1, 2))
 
 
 class StageOne(unittest.TestCase):
@@ -145,6 +171,81 @@ class StageTwo(unittest.TestCase):
         self.assertEqual(told, ((0, 1, 1), (0, 2), (2, 1, 0)))
         told = (mark_paper(RING, (2, 1, 0), 0), mark_paper(TWICE, (2, 1), 0))
         self.assertEqual(told, (((1, 2, 0), (0, 1, 1), (2, 1, 1)), ((1, 2, 2),)))
+
+
+class StageThree(unittest.TestCase):
+    def test_numbers(self):
+        told = (number_of(RING, (1, 1, 1), 0), standing_at(RING, 3, 0), next_standing(RING, (1, 0, 2), 0))
+        self.assertEqual(told, (6, (2, 1, 0), (2, 1, 0)))
+        told = [(0, 1, 2), (0, 2, 1), (1, 0, 2), (2, 1, 0), (1, 2, 0), (2, 0, 1), (1, 1, 1)]
+        self.assertEqual([standing_at(RING, number, 0) for number in range(7)], told)
+        told = ((0, 3), (1, 2), (2, 1), (3, 0))
+        self.assertEqual(all_standings(TWICE), told)
+        self.assertEqual(list(standings_from(TWICE, 0)), [(0, 3), (3, 0), (1, 2), (2, 1)])
+        made = Forests(RING, 0)
+        self.assertEqual((made.weight(), made.trees(), made.purses_by((0, 0, 0))), (7, 3, (0, 1, 2)))
+
+    def test_pairs(self):
+        self.assertEqual((refused_count(RING, 0, 1, 3), refused_share(ROW, 0, 2, 2)), (7, (5, 6)))
+        told = (((0, 1), (1, 3), (1, 2)), ((1, 3), (0, 1), (1, 4)), ((1, 2), (1, 4), (0, 1)))
+        self.assertEqual(refused_table(ROW), told)
+        self.assertEqual(stretch_at(RING, (2, 0, 1), 0, 1), (2, 2))
+        self.assertEqual(list(stretch_of(RING, (2, 0, 1), 0, 1)), [(0, 2, 1), (1, 1, 1), (2, 0, 1)])
+        self.assertEqual(stretch_table(ROW, 0, 2), ((0, 2), (1, 2), (2, 2)))
+        self.assertEqual((refused_count(ROW, 0, 2, 1), refused_count(ROW, 0, 2, 2)), (6, 10))
+
+    def test_reaches(self):
+        self.assertEqual(joined_count(ROW, (0, 2)), 6)
+        self.assertEqual(reach_table(RING, 0), (((0,), 2), ((0, 1), 1), ((0, 1, 2), 3), ((0, 2), 1)))
+        self.assertEqual((reach_mean(RING, 0), peel_count(ROW, (0, 0, 2))), ((15, 7), 2))
+
+    def test_counts(self):
+        self.assertEqual((chain_count(ROW, ((0,), (0, 1))), busy_count(ROW)), (1, 5))
+        self.assertEqual((all_pay_count(RING), class_count(TWICE, (0, 0)), neither_count(ROW, 0, 2)), (1, 2, 2))
+        self.assertEqual(class_table(RING), (((0, 0, 0), 1), ((0, 1, 2), 6)))
+        self.assertEqual((line_shares(ROW), lines_mean(ROW), purse_mean(ROW, 1)), (((1, 3), (1, 4)), (17, 12), (5, 2)))
+
+    def test_claims(self):
+        self.assertIs(is_claim(3, ("holds", 0, True)), False)
+        self.assertIs(holds_at(RING, (2, 0, 1), ("both", ("pays", 0, 1, 2), ("shut", (1,)))), True)
+        self.assertEqual(claim_count(ROW, ("pays", 0, 2, 2)), 2)
+        self.assertIs(claims_alike(RING, ("shut", (1,)), ("not", ("holds", 1, 1))), True)
+        self.assertEqual(claims_apart(RING, ("pays", 0, 1, 1), ("pays", 1, 0, 1)), (0, 1, 2))
+        told = claim_line(3, ("not", ("both", ("pays", 0, 1, 2), ("shut", (0, 1, 2)))))
+        self.assertEqual(told, "not both pays 0 1 2 shut 3 0 1 2")
+        self.assertEqual(read_claim(3, "holds 0 4"), ("holds", 0, 4))
+        self.assertEqual(Shares(RING).joined((0, 1)), (4, 7))
+
+    def test_asks(self):
+        self.assertEqual((asks_weight(2, ASKED), weight_in(2, ASKED, 0, 1, 2)), (5, 0))
+
+
+class StageFour(unittest.TestCase):
+    def test_asks(self):
+        self.assertEqual(asks_both(2, ASKED), ((0, 1, 1, 5), (1, 0, 1, 5)))
+        told = run_of(ROW, (2, 0, 3), ((0, 1, 2), (0, 2, 1), (1, 0, 1)))
+        self.assertEqual(told, ((True, False, True), (1, 1, 3)))
+        self.assertEqual(asks_line(2, ASKED), "0 1 1 3; 1 0 1 2")
+        with self.assertRaises(InvalidText) as caught:
+            read_asks(2, "0 1 1 3; 1 1 1 2")
+        self.assertEqual((caught.exception.line, caught.exception.field), (0, 5))
+
+    def test_long_runs(self):
+        self.assertEqual(long_run(ONE, ASKED), ((3, 5), (2, 5)))
+        with self.assertRaises(Parted) as caught:
+            long_run(ONE, ((0, 1, 1, 1),))
+        self.assertEqual((caught.exception.here, caught.exception.there), ((0, 1), (1, 0)))
+        self.assertEqual(gap_at(ONE, ASKED, ((1, 1), (3, 1)), (0, 1)), (1, 1))
+        self.assertEqual(bent_run(ONE, ((1, 1), (3, 2))), ((3, 5), (2, 5)))
+        self.assertEqual(waits_of(ONE, ASKED, 0, 1, 1), ((25, 9), (40, 9)))
+        self.assertEqual(Run(ONE, ASKED).back().refused(0, 1, 1), (2, 5))
+
+    def test_fits(self):
+        self.assertEqual(fit_paper(ONE, ASKED), ("fits", ((1, 1), (3, 2))))
+        asks = asks_of(3, (0, 1, 1, 1), *line_asks(RING, 1))
+        self.assertIsNone(lets_fit(RING, asks, ("odd", (0, 1, 1), (0, 2, 1))))
+        self.assertEqual(layered(ROW, 1, ((0,), (1,), (2,)), 0), (2, 3, 0))
+        self.assertEqual(lets_witness(TWICE, ASKED, ((1, 1), (1, 1)), (3, 0)), (1, 1))
 
 
 if __name__ == "__main__":

@@ -6,8 +6,12 @@ import unittest
 from itertools import combinations
 
 from reckon import RING, ROW
+from howeverled.askchanges import asks_of
 from howeverled.errors import NotUsable
+from howeverled.forestclasses import Forests
 from howeverled.momentclasses import Moment
+from howeverled.runclasses import Run
+from howeverled.shareclasses import Shares
 from howeverled.webclasses import Web
 
 BOTH = (None, True, False, "0", "", (), [], (None,), [0], ((), ()))
@@ -49,7 +53,33 @@ WRONG = {
     "lots": (None, [], ((0, 1),), ((0,), (1,), (2,), ()), ((0, 1), (1, 2)), ((0, 1, 2, 3),), ([0, 1, 2],), ((1, 0), (2,)),
              ((0, 1), (True,), (2,)), (), ((0,), (1,)), 3),
     "text": (None, 3, True, ("3",), ["3"], ()),
+    "number": (*BOTH, -1, 12, 10 ** 30, (0,)),
+    "chain": (None, [], [(0,)], ((),), ((0, 1, 2),), ((0,), (0,)), ((0,), (1,)), ((0, 1), (0,)), ((0,), (1, 2)), ([0],),
+              ((1, 0),), ((3,),), ((True,),), ((0,), None), 3, (0,)),
+    "claim": (None, (), "shut", ("shut",), ["shut", ()], ("shut", [0]), ("shut", (3,)), ("shut", (1, 0)), ("shut", (0,), 0),
+              ("holds", 0, True), ("holds", 3, 0), ("holds", 0, -1), ("holds", False, 0), ("holds", 0), ("pays", 0, 0, 1),
+              ("pays", 0, 1, 0), ("pays", 0, 3, 1), ("pays", 0, 1, True), ("pays", 0, 1), ("pays", 0, 1, 1, 1), ("not",),
+              ("not", ("shut",)), ("not", ("shut", ()), ("shut", ())), ("both", ("shut", ())), ("Both", 0, 0), (("not",), 0),
+              ("either", ("shut", ()), None), ("not", ("not", ("not", ("not", ("shut", ()))))), (None, ()), 7),
+    "asks": (None, [], 5, "-", True, ((0, 1, 1),), ((0, 1, 1, 1, 1),), ([0, 1, 1, 1],), [(0, 1, 1, 1)], ((0, 0, 1, 1),),
+             ((0, 3, 1, 1),), ((-1, 0, 1, 1),), ((0, 1, 0, 1),), ((0, 1, 1, 0),), ((0, 1, True, 1),), ((0, 1, 1, True),),
+             ((False, 1, 1, 1),), ((0, 1, 1, 1), (0, 1, 1, 1)), ((0, 1, 1, 1), (0, 1, 1, 2)), ((1, 0, 1, 1), (0, 1, 1, 1)),
+             ((0, 2, 1, 1), (0, 1, 2, 1)), ((0, 1, 2, 1), (0, 1, 1, 5)), ((0, 1, 1, 1), None)),
+    "asked_coins": (*BOTH, 0, -1, 2, 10 ** 30, (1,)),
+    "bends": (None, (), 3, ((1, 1), (1, 1)), ((1, 1),) * 4, [(1, 1)] * 3, ((1, 1), (0, 1), (1, 1)), ((1, 1), (-1, 2), (1, 1)),
+              ((1, 1), (2, 4), (1, 1)), ((1, 1), (1, True), (1, 1)), ((True, 1), (1, 1), (1, 1)), ((1, 1), 1, (1, 1)),
+              ((1, 1), [1, 1], (1, 1)), ((1, 1), (1, 0), (1, 1)), ((1, 1), (1, 1), (1, 1, 1)), ((1, 1), (1, 1), None)),
+    "layers": (None, (), 3, [(0, 1, 2)], ((0, 1),), ((0, 1, 2), ()), ((0, 2), (1,)), ((0,), (2,), (1,)), ((0,), (1,), (1, 2)),
+               ([0, 1, 2],), ((1, 0), (2,)), ((0,), (1,), (2, 3)), ((0,), (True,), (2,)), ((2,), (0,), (1,)), (0, 1, 2)),
+    "upward": (*BOTH, -1, 1, 2, (0,)),
+    "doors": (None, (), [0, 2], (0, 0), (0, 3), (-1,), (True,), (0, None), 0, "0", ((0,),), (0, 1, 2, 0)),
+    "places": (None, (), [1, 0], (1,), (0, 1, 2), (1, 1), (0, 3), (-1, 0), (True, 0), (0, None), 0, "01"),
+    "doors_joining": (None, (), (0,), (0, 0, 0), (1, 1), (0, 2), [0, 0], (0, True), (False, 0), 0, "00"),
 }
+
+ASKED = ((0, 1, 1, 3), (1, 0, 1, 2))
+BENDS = ((1, 1), (3, 2), (2, 5))
+PIECE = (ROW, (0, 2))
 
 # Each function: its file, and the parameters with a right value and a kind; None where nothing is refused.
 CASES = (
@@ -147,6 +177,96 @@ CASES = (
     ("markpapers", "mark_paper", (("web", ROW, None), ("purses", (2, 0, 3), "standing"), ("root", 1, "house"))),
     ("markpapers", "lets_marks", (("web", ROW, None), ("purses", (2, 0, 3), "standing"), ("root", 1, "house"),
                                   ("thing", ((1, 0, 0), (0, 0, 0)), None))),
+    ("numbering", "number_of", (("web", ROW, None), ("purses", (2, 0, 3), "standing"), ("root", 1, "house"))),
+    ("numbering", "standing_at", (("web", ROW, None), ("number", 11, "number"), ("root", 1, "house"))),
+    ("numbering", "next_standing", (("web", ROW, None), ("purses", (2, 0, 3), "standing"), ("root", 1, "house"))),
+    ("standinglists", "all_standings", (("web", ROW, None),)),
+    ("standinglists", "standings_from", (("web", ROW, None), ("root", 1, "house"))),
+    ("forestclasses", "Forests", (("web", ROW, "web"), ("root", 1, "house"))),
+    ("pairshares", "refused_count", (("web", ROW, None), ("payer", 0, "house"), ("payee", 1, "other"),
+                                     ("coins", 2, "coins"))),
+    ("pairshares", "refused_share", (("web", ROW, None), ("payer", 0, "house"), ("payee", 1, "other"),
+                                     ("coins", 2, "coins"))),
+    ("pairshares", "refused_table", (("web", ROW, None),)),
+    ("stretches", "stretch_at", (("web", ROW, None), ("purses", (2, 0, 3), "standing"), ("here", 0, "house"),
+                                 ("there", 1, "other"))),
+    ("stretches", "stretch_of", (("web", ROW, None), ("purses", (2, 0, 3), "standing"), ("here", 0, "house"),
+                                 ("there", 1, "other"))),
+    ("stretches", "stretch_table", (("web", ROW, None), ("here", 0, "house"), ("there", 1, "other"))),
+    ("reachcounts", "joined_count", (("web", ROW, None), ("lot", (0, 1), "some_lot"))),
+    ("reachcounts", "reach_count", (("web", ROW, None), ("house", 0, "house"), ("lot", (0, 1), "lot"))),
+    ("reachcounts", "reach_table", (("web", ROW, None), ("house", 0, "house"))),
+    ("reachcounts", "reach_mean", (("web", ROW, None), ("house", 0, "house"))),
+    ("reachcounts", "peel_count", (("web", ROW, None), ("joining", (0, 1, 0), "joining"))),
+    ("chaincounts", "chain_count", (("web", ROW, None), ("lots", ((0,), (0, 2)), "chain"))),
+    ("chaincounts", "idle_count", (("web", ROW, None), ("lot", (0, 1), "lot"))),
+    ("chaincounts", "busy_count", (("web", ROW, None),)),
+    ("allcounts", "all_pay_count", (("web", ROW, None),)),
+    ("allcounts", "class_count", (("web", ROW, None), ("joining", (0, 1, 0), "joining"))),
+    ("allcounts", "class_table", (("web", ROW, None),)),
+    ("allcounts", "both_count", (("web", ROW, None), ("here", 0, "house"), ("there", 1, "other"))),
+    ("allcounts", "neither_count", (("web", ROW, None), ("here", 0, "house"), ("there", 1, "other"))),
+    ("linemeans", "line_shares", (("web", ROW, None),)),
+    ("linemeans", "lines_mean", (("web", ROW, None),)),
+    ("linemeans", "purse_mean", (("web", ROW, None), ("house", 0, "house"))),
+    ("claimkinds", "is_claim", (("size", 3, None), ("thing", None, None))),
+    ("claims", "holds_at", (("web", ROW, None), ("purses", (2, 0, 3), "standing"), ("claim", ("holds", 0, 2), "claim"))),
+    ("claims", "claim_count", (("web", ROW, None), ("claim", ("holds", 0, 2), "claim"))),
+    ("claims", "claim_share", (("web", ROW, None), ("claim", ("holds", 0, 2), "claim"))),
+    ("claims", "claims_alike", (("web", ROW, None), ("claim", ("holds", 0, 2), "claim"), ("other", ("shut", ()), "claim"))),
+    ("claims", "claims_apart", (("web", ROW, None), ("claim", ("holds", 0, 2), "claim"), ("other", ("shut", ()), "claim"))),
+    ("claimtexts", "claim_line", (("size", 3, None), ("claim", ("holds", 0, 2), "claim"))),
+    ("claimtexts", "read_claim", (("size", 3, None), ("text", "holds 0 2", "text"))),
+    ("shareclasses", "Shares", (("web", ROW, "web"),)),
+    ("askkinds", "is_ask", (("size", 3, None), ("thing", None, None))),
+    ("askkinds", "is_asks", (("size", 3, None), ("thing", None, None))),
+    ("askkinds", "asks_weight", (("size", 3, None), ("asks", ASKED, "asks"))),
+    ("askkinds", "weight_in", (("size", 3, None), ("asks", ASKED, "asks"), ("payer", 0, "house"), ("payee", 1, "other"),
+                               ("coins", 1, "coins"))),
+    ("askchanges", "asks_back", (("size", 3, None), ("asks", ASKED, "asks"))),
+    ("askchanges", "asks_both", (("size", 3, None), ("asks", ASKED, "asks"))),
+    ("askchanges", "line_asks", (("web", ROW, None), ("weight", 3, "coins"))),
+    ("askchanges", "alike_both", (("size", 3, None), ("asks", ASKED, "asks"))),
+    ("running", "after_ask", (("web", ROW, None), ("purses", (2, 0, 3), "standing"), ("payer", 0, "house"),
+                              ("payee", 1, "other"), ("coins", 1, "coins"))),
+    ("running", "run_of", (("web", ROW, None), ("purses", (2, 0, 3), "standing"), ("calls", ((0, 1, 1),), "batch"))),
+    ("running", "led_run", (("web", ROW, None), ("split", (2, 0), "split"), ("calls", ((0, 1, 1),), "batch"),
+                            ("rule", "wide", "rule"))),
+    ("asktexts", "asks_line", (("size", 3, None), ("asks", ASKED, "asks"))),
+    ("asktexts", "read_asks", (("size", 3, None), ("text", "0 1 1 3; 1 0 1 2", "text"))),
+    ("steps", "step_rows", (("web", ROW, None), ("asks", ASKED, "asks"))),
+    ("longruns", "comes_to", (("web", ROW, None), ("asks", ASKED, "asks"), ("purses", (2, 0, 3), "standing"))),
+    ("longruns", "long_run", (("web", RING, None), ("asks", ((0, 1, 1, 1), (1, 2, 1, 1), (2, 0, 1, 1)), "asks"))),
+    ("longruns", "asked_refused", (
+        ("web", RING, None), ("asks", ((0, 1, 1, 1), (1, 2, 1, 1), (2, 0, 1, 1)), "asks"), ("payer", 0, "house"),
+        ("payee", 1, "other"), ("coins", 1, "coins"))),
+    ("balances", "gap_at", (("web", ROW, None), ("asks", ASKED, "asks"), ("bends", BENDS, "bends"),
+                            ("purses", (2, 0, 3), "standing"))),
+    ("balances", "is_lasting", (("web", ROW, None), ("asks", ASKED, "asks"), ("bends", BENDS, "bends"))),
+    ("balances", "bent_run", (("web", ROW, None), ("bends", BENDS, "bends"))),
+    ("waits", "waits_of", (("web", ROW, None), ("asks", ASKED, "asks"), ("payer", 0, "house"), ("payee", 1, "other"),
+                           ("coins", 1, "asked_coins"))),
+    ("waits", "mean_wait", (
+        ("web", RING, None), ("asks", ((0, 1, 1, 1), (1, 2, 1, 1), (2, 0, 1, 1)), "asks"), ("payer", 0, "house"),
+        ("payee", 1, "other"), ("coins", 1, "asked_coins"))),
+    ("fits", "asks_fit", (("size", 3, None), ("asks", ASKED, "asks"), ("bends", BENDS, "bends"))),
+    ("fitpapers", "fit_paper", (("web", ROW, None), ("asks", (*ASKED, (1, 2, 1, 3), (2, 1, 1, 1)), "asks"))),
+    ("fitpapers", "lets_fit", (("web", ROW, None), ("asks", (*ASKED, (1, 2, 1, 3), (2, 1, 1, 1)), "asks"),
+                               ("thing", ("fits", ((1, 1), (3, 2), (9, 2))), None))),
+    ("wides", "wide_pairs", (("web", ROW, None), ("coins", 1, "coins"))),
+    ("wides", "is_wide", (("web", ROW, None), ("coins", 1, "coins"))),
+    ("wides", "layered", (("web", ROW, None), ("coins", 1, "coins"), ("lots", ((0,), (1, 2)), "layers"),
+                          ("upward", 0, "upward"))),
+    ("witnesses", "witness_of", (("web", ROW, None), ("asks", ASKED, "asks"), ("bends", BENDS, "bends"))),
+    ("witnesses", "lets_witness", (("web", ROW, None), ("asks", ASKED, "asks"), ("bends", ((1, 1),) * 3, "bends"),
+                                   ("thing", (2, 0, 3), None))),
+    ("runclasses", "Run", (("web", ROW, "web"), ("asks", ASKED, "asks"))),
+    ("piecekinds", "is_piece", (("thing", None, None),)),
+    ("piecekinds", "inner_of", (("piece", PIECE, None),)),
+    ("piecekinds", "piece_of", (("web", ROW, None), ("doors", (2, 0), "doors"))),
+    ("piecekinds", "lets_piece", (("thing", PIECE, None),)),
+    ("gluing", "glued", (("piece", PIECE, None), ("other", RING, "web"), ("places", (1, 0), "places"))),
+    ("gluing", "doors_made", (("piece", PIECE, None), ("joining", (0, 0), "doors_joining"))),
     ("kinds", "is_integer", (("thing", None, None),)),
     ("kinds", "is_number", (("thing", None, None),)),
     ("kinds", "is_quotient", (("thing", None, None),)),
@@ -166,8 +286,10 @@ def found(module, name):
 
 class WrongInputs(unittest.TestCase):
     def named(self, function, arguments, word):
-        with self.assertRaises(NotUsable) as caught:
-            function(**arguments)
+        with self.assertRaises(NotUsable, msg=(function.__name__, arguments)) as caught:
+            made = function(**arguments)
+            if inspect.isgenerator(made):
+                next(made)
         told = (function.__name__, arguments)
         self.assertEqual((caught.exception.word, caught.exception.at), (word, -1), told)
 
@@ -213,21 +335,20 @@ class WrongInputs(unittest.TestCase):
                   "with_new": ["here", "there", "room"], "told": []},
             Moment: {"can": ["payer", "payee", "coins"], "most": ["here", "there"], "reach": ["house"],
                      "pay": ["payer", "payee", "coins"], "span": ["line"], "told": []},
+            Forests: {"weight": [], "trees": [], "number": ["purses"], "standing": ["number"], "marks": ["purses"],
+                      "purses_by": ["marks"], "told": []},
+            Shares: {"refused": ["payer", "payee", "coins"], "joined": ["lot"], "reach": ["house", "lot"],
+                     "claim": ["claim"], "total": []},
+            Run: {"long_shares": [], "refused": ["payer", "payee", "coins"], "fits": ["bends"],
+                  "wait": ["payer", "payee", "coins"], "back": []},
         }
         for made, methods in listed.items():
             for name, words in methods.items():
                 told = list(inspect.signature(vars(made)[name]).parameters)
                 self.assertEqual(told, ["self", *words])
 
-    def test_methods_of_moments(self):
-        moment = Moment(ROW, (2, 0, 3))
-        cases = (
-            (moment.can, (("payer", 0, "house"), ("payee", 1, "other"), ("coins", 1, "coins"))),
-            (moment.pay, (("payer", 0, "house"), ("payee", 1, "other"), ("coins", 1, "coins"))),
-            (moment.most, (("here", 0, "house"), ("there", 1, "other"))),
-            (moment.reach, (("house", 0, "house"),)),
-            (moment.span, (("line", 0, "line"),)),
-        )
+    def refusals_of(self, *cases):
+        """Each method names what is wrong, and of two the first one."""
         for method, parameters in cases:
             right = {word: value for word, value, _ in parameters}
             method(**right)
@@ -237,21 +358,58 @@ class WrongInputs(unittest.TestCase):
             for (first, _, kind), (second, _, other) in combinations(parameters, 2):
                 self.named(method, {**right, first: WRONG[kind][0], second: WRONG[other][0]}, first)
 
+    def test_methods_of_moments(self):
+        moment = Moment(ROW, (2, 0, 3))
+        self.refusals_of(
+            (moment.can, (("payer", 0, "house"), ("payee", 1, "other"), ("coins", 1, "coins"))),
+            (moment.pay, (("payer", 0, "house"), ("payee", 1, "other"), ("coins", 1, "coins"))),
+            (moment.most, (("here", 0, "house"), ("there", 1, "other"))),
+            (moment.reach, (("house", 0, "house"),)),
+            (moment.span, (("line", 0, "line"),)),
+        )
+
     def test_methods_of_webs(self):
         web = Web(3, (0, 1, 2), (1, 2, 3))
-        cases = (
+        self.refusals_of(
             (web.bond, (("here", 0, "house"), ("there", 1, "other"))),
             (web.hold, (("house", 0, "house"),)),
             (web.kept, (("lot", (0, 1), "some_lot"),)),
             (web.merged, (("here", 0, "house"), ("there", 1, "other"))),
             (web.with_new, (("here", 0, "house"), ("there", 1, "other"), ("room", 4, "room"))),
         )
-        for method, parameters in cases:
-            right = {word: value for word, value, _ in parameters}
-            method(**right)
-            for word, _, kind in parameters:
-                for wrong in WRONG[kind]:
-                    self.named(method, {**right, word: wrong}, word)
+
+    def test_methods_of_forests_and_shares(self):
+        made = Forests(ROW, 1)
+        shares = Shares(ROW)
+        self.refusals_of(
+            (made.number, (("purses", (2, 0, 3), "standing"),)),
+            (made.standing, (("number", 3, "number"),)),
+            (made.marks, (("purses", (2, 0, 3), "standing"),)),
+            (made.purses_by, (("marks", (0, 1), "marks"),)),
+            (shares.refused, (("payer", 0, "house"), ("payee", 1, "other"), ("coins", 1, "coins"))),
+            (shares.joined, (("lot", (0, 1), "some_lot"),)),
+            (shares.reach, (("house", 0, "house"), ("lot", (0, 1), "lot"))),
+            (shares.claim, (("claim", ("holds", 0, 2), "claim"),)),
+        )
+
+    def test_methods_of_runs(self):
+        run = Run(RING, ((0, 1, 1, 1), (1, 2, 1, 1), (2, 0, 1, 1)))
+        self.refusals_of(
+            (run.refused, (("payer", 0, "house"), ("payee", 1, "other"), ("coins", 1, "coins"))),
+            (run.fits, (("bends", BENDS, "bends"),)),
+            (run.wait, (("payer", 0, "house"), ("payee", 1, "other"), ("coins", 1, "asked_coins"))),
+        )
+
+    def test_rows_of_asks(self):
+        self.assertEqual(asks_of.__module__, "howeverled.askchanges")
+        self.assertEqual(list(inspect.signature(asks_of).parameters), ["size", "rows"])
+        right = (0, 1, 1, 3)
+        for wrong in (None, (), 5, (0, 1, 1), (0, 1, 1, 1, 1), [0, 1, 1, 1], (0, 0, 1, 1), (0, 3, 1, 1), (-1, 0, 1, 1),
+                      (0, 1, 0, 1), (0, 1, 1, 0), (0, 1, 1, True), (0, True, 1, 1), (0, 1, None, 1)):
+            for rows, place in (((wrong,), 0), ((right, wrong), 1), ((right, right, wrong, None), 2)):
+                with self.assertRaises(NotUsable) as caught:
+                    asks_of(3, *rows)
+                self.assertEqual((caught.exception.word, caught.exception.at), ("rows", place))
 
     def test_any_value_is_told_of(self):
         """Functions that only tell take whatever there is, and give True or False."""
@@ -262,10 +420,10 @@ class WrongInputs(unittest.TestCase):
                 deep = (0,)
         values = (*BOTH, deep, 10 ** 60, -(10 ** 59), "a\nb", (3, (((),),)), Web(2), ["x"] * 50)
         for module, name, parameters in CASES:
-            if not name.startswith("is_"):
+            right = {word: value for word, value, _ in parameters}
+            if not name.startswith("is_") or "thing" not in right:
                 continue
             function = found(module, name)
-            right = {word: value for word, value, _ in parameters}
             for value in values:
                 self.assertIs(type(function(**{**right, "thing": value})), bool)
 
