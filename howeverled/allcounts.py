@@ -1,6 +1,6 @@
 """At how many standings all houses, or two of them, can pay one another."""
 
-from howeverled.checks import need, need_pair
+from howeverled.checks import need
 from howeverled.forestweights import forest_weight, signed_weight
 from howeverled.joinings import blocks_in, joinings_of
 from howeverled.kinds import is_joining
@@ -26,8 +26,6 @@ def classes_counted(web, joining):
     count = 1
     for block in blocks_in(joining):
         count *= all_pay_count(kept_to(web, block))
-    if count == 0:
-        return 0
     # Between two classes all coins of all lines lie at the same one, and no row of classes leads back.
     many, lines = made_by(web, joining)
     pairs = sorted(set([(one, other) for one, other, _ in lines]))
@@ -42,7 +40,6 @@ def class_table(web):
 
 def both_count(web, here, there):
     """The number of standings at which each of the two can pay the other one."""
-    need_pair(web, here, there)
     # On a stretch of two linked houses just the standings at its two ends bar one of them.
     if bond_of(web, here, there) > 0:
         return forest_weight(web) - 2 * forest_weight(made_one(web, here, there))
@@ -51,7 +48,6 @@ def both_count(web, here, there):
 
 def neither_count(web, here, there):
     """The number of standings at which neither of the two can pay the other one."""
-    need_pair(web, here, there)
     if bond_of(web, here, there) > 0:
         return 0
     return sum([many for length, many in stretch_table(web, here, there) if length == 0])

@@ -39,12 +39,10 @@ def weight_of_lot(web, lot):
 
 def idle_count(web, lot):
     """The number of standings at which each house of the lot has the purse 0."""
-    size, _ = web
-    need(is_lot(size, lot), "lot")
     # A line within the lot lays its coins at one of two houses that are both to have none.
     if within_of(web, lot) > 0:
         return 0
-    return weight_of_lot(web, less_lot(tuple(range(size)), lot))
+    return weight_of_lot(web, less_lot(tuple(range(web[0])), lot))
 
 
 def busy_count(web):

@@ -3,13 +3,12 @@
 from howeverled.checks import is_house, need
 from howeverled.forestweights import forest_weight
 from howeverled.kinds import is_number
-from howeverled.marking import Taking, marked_of, marked_purses, need_rooted, stages_of
+from howeverled.marking import Taking, marked_of, marked_purses, stages_of
 from howeverled.webs import line_between
 
 
 def number_of(web, purses, root):
     """The number of the standing, by the root."""
-    need_rooted(web, purses, root)
     marks = marked_of(web, purses, root)
     taking = Taking(web, root)
     number = 0
@@ -70,7 +69,6 @@ def marks_at(web, number, root):
 
 def next_standing(web, purses, root):
     """The standing with the next number, by the root, or None."""
-    need_rooted(web, purses, root)
     marks = next_marks(web, marked_of(web, purses, root), root)
     return None if marks is None else marked_purses(web, marks, root)
 

@@ -4,7 +4,7 @@ from howeverled.checks import is_house, need
 from howeverled.forestweights import forest_weight, tree_weight
 from howeverled.joinedweights import club_weight, joined_weight
 from howeverled.joinings import blocks_in
-from howeverled.kinds import is_joining, is_lot
+from howeverled.kinds import is_joining
 from howeverled.quotients import quotient_of
 from howeverled.slacks import lots_of
 from howeverled.webchanges import kept_to
@@ -12,7 +12,7 @@ from howeverled.webchanges import kept_to
 
 def joined_count(web, lot):
     """The number of standings at which one house of the lot, whichever it is, can pay each other house of it."""
-    need(is_lot(web[0], lot) and lot != (), "lot")
+    need(lot != (), "lot")
     return joined_weight(web, lot)
 
 
@@ -23,7 +23,6 @@ def reach_count(web, house, lot):
 
 def reach_table(web, house):
     """All lots that some standing has as the reach of the house, each with its number of standings, ascending."""
-    need(is_house(web[0], house), "house")
     counts = [(lot, club_weight(web, house, lot)) for lot in lots_of(web[0])]
     return tuple([(lot, count) for lot, count in counts if count > 0])
 

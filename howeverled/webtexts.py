@@ -55,7 +55,7 @@ def read_sized(text, width):
     """The size, and the rows of as many numbers as the width tells."""
     fields = text.split(" ")
     size, due = read_size(fields[0])
-    rows = read_rows(fields, 1, due, width, lambda _, row, number: may_follow(size, width, row, number))
+    rows = read_rows(fields, 1, due, width, lambda rows, row, number: may_follow(size, width, row, number))
     return (size, rows)
 
 

@@ -41,7 +41,7 @@ def need_wide(web, coins):
 
 def are_layers(size, pairs, thing):
     """True for one to three lots with each house once, each joined by wide pairs, and so each one to the next."""
-    if not are_blocks(size, thing) or not 1 <= len(thing) <= 3:
+    if not are_blocks(size, thing) or len(thing) > 3:
         return False
     if not all([are_joined(size, pairs, lot) for lot in thing]):
         return False

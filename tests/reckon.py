@@ -178,6 +178,57 @@ def forests(web):
     return found
 
 
+def walk(web, root, mark_of):
+    """The lines taken by the host, word by word as it is told: each with the rows [line, one, other, room] before and behind it.
+
+    mark_of tells the mark of the line that is taken, by the rows, the host and that row.
+    """
+    size, lines = web
+    rows = [[line, *told] for line, told in enumerate(lines)]
+    host, met, taken = root, {root}, []
+    while rows:
+        here = [row for row in rows if host in row[1:3]]
+        if not here:
+            host = min(set(range(size)) - met)
+            met.add(host)
+            continue
+        line, one, other, _ = here[-1]
+        end = other if one == host else one
+        mark = mark_of(rows, host, here[-1])
+        before = rows
+        if mark:
+            rows = [[row[0], *[host if house == end else house for house in row[1:3]], row[3]]
+                    for row in rows if set(row[1:3]) != {host, end}]
+            met.add(end)
+        else:
+            rows = [row for row in rows if row[0] != line]
+        taken.append((line, mark, before, rows))
+    return taken
+
+
+def told_paper(web, purses, root):
+    """The triples (line, i, mark), with the most reckoned over all splits."""
+    size = web[0]
+    held = list(purses)
+    mosts = []
+
+    def mark_of(rows, host, row):
+        _, one, other, room = row
+        end = other if one == host else one
+        now = (size, tuple(tuple(row[1:]) for row in rows))
+        coins = most(standings(now), tuple(held), host, end)
+        mosts.append(coins)
+        if 1 <= coins <= room:
+            held[host] += held[end] - sum(row[3] for row in rows if set(row[1:3]) == {host, end})
+            held[end] = 0
+            return coins
+        held[end if coins == 0 else host] -= room
+        return 0
+
+    taken = walk(web, root, mark_of)
+    return tuple((line, coins, mark) for (line, mark, _, _), coins in zip(taken, mosts))
+
+
 def orders(size, many, seed):
     """Several orders of the houses, the ascending and the descending one among them."""
     draw = random.Random(seed)

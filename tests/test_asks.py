@@ -4,6 +4,7 @@ import random
 import unittest
 from itertools import product
 
+from askreckon import asks_from, random_rows
 from reckon import HUGE, RING, ROW, TWICE, great_web, most, moved, purses_at, small_webs, some_standing, splits, standings
 from howeverled.askchanges import alike_both, asks_back, asks_both, asks_of, line_asks
 from howeverled.askkinds import asks_weight, is_ask, is_asks, weight_in
@@ -13,21 +14,6 @@ from howeverled.running import after_ask, led_run, run_of
 from howeverled.webs import bond_of
 
 ASKED = ((0, 1, 1, 3), (1, 0, 1, 2))
-
-
-def random_rows(draw, size, many, most_coins=3, greatest=10 ** 6):
-    rows = []
-    for _ in range(many if size > 1 else 0):
-        payer, payee = draw.sample(range(size), 2)
-        rows.append((payer, payee, draw.randint(1, most_coins), draw.randint(1, greatest)))
-    return rows
-
-
-def asks_from(rows):
-    weights = {}
-    for payer, payee, coins, weight in rows:
-        weights[payer, payee, coins] = weights.get((payer, payee, coins), 0) + weight
-    return tuple(sorted((*ask, weight) for ask, weight in weights.items()))
 
 
 class Kinds(unittest.TestCase):

@@ -5,11 +5,10 @@ import unittest
 from fractions import Fraction
 from itertools import combinations, permutations, product
 
+from askreckon import asks_from, fitting_rows, gap, random_bends, random_rows, told
 from reckon import (
     HUGE, RING, ROW, TWICE, clubs, great_web, random_web, small_webs, standings,
 )
-from test_asks import asks_from, random_rows
-from test_longruns import fitting_rows, gap, random_bends, told
 from howeverled.askchanges import asks_back, asks_both, asks_of, line_asks
 from howeverled.balances import gap_at
 from howeverled.errors import InvalidPaper, NotUsable, NotWide, Unasked
@@ -304,6 +303,10 @@ class Wides(unittest.TestCase):
         with self.assertRaises(NotWide) as caught:
             layered(ROW, 2, None, None)
         self.assertEqual(caught.exception.coins, 2)
+        row = (4, ((0, 1, 2), (1, 2, 2), (2, 3, 2)))
+        with self.assertRaises(NotUsable) as caught:
+            layered(row, 1, ((0,), (1,), (2,), (3,)), 0)
+        self.assertEqual((caught.exception.word, caught.exception.at), ("lots", -1))
         for lots, word in ((None, "lots"), (((0, 2), (1,)), "lots"), (((0, 1, 2),), "upward")):
             with self.assertRaises(NotUsable) as caught:
                 layered(ROW, 1, lots, 1)
@@ -357,6 +360,19 @@ class Witnesses(unittest.TestCase):
                 self.assertEqual(self.judge(web, asks, ((1, 1),) * size), "odd")
                 asks = asks_from(rows + [(one, other, 1, 1) for one, other in permutations(range(size), 2)][:6])
                 self.judge(web, asks, ((1, 1),) * size)
+
+    def test_sums_of_nothing(self):
+        """What all that can be paid adds to the gap is often nothing in all."""
+        self.assertEqual(self.judge((2, ((0, 1, 4),)), ((0, 1, 1, 1), (1, 0, 2, 1)), ((1, 1),) * 2), "odd")
+        for web in ((3, ((0, 1, 4), (1, 2, 4))), (3, ((0, 1, 4), (0, 2, 4), (1, 2, 4)))):
+            self.assertEqual(self.judge(web, ((0, 1, 1, 6), (1, 2, 2, 1)), ((1, 1), (2, 1), (1, 1))), "odd")
+        draw = random.Random(8)
+        for size in (2, 3, 4):
+            for web in ((size, tuple((one, other, 6) for one, other in combinations(range(size), 2))),
+                        (size, tuple((house, house + 1, 6) for house in range(size - 1)))):
+                for _ in range(60):
+                    rows = {(*draw.sample(range(size), 2), draw.randint(1, 3), 1) for _ in range(draw.randint(1, 8))}
+                    self.judge(web, asks_from(rows), ((1, 1),) * size)
 
     def test_great_webs(self):
         draw = random.Random(5)

@@ -4,8 +4,8 @@ import random
 import unittest
 from fractions import Fraction
 
+from askreckon import asks_from, fitting_rows, gap, random_bends, random_rows, term, told
 from reckon import HUGE, RING, ROW, TWICE, great_web, moved, small_webs, some_standing, standings
-from test_asks import asks_from, random_rows
 from howeverled.askchanges import asks_back, asks_both, line_asks
 from howeverled.balances import bent_run, gap_at, is_lasting
 from howeverled.errors import NotUsable, Parted
@@ -24,10 +24,6 @@ ASKED = ((0, 1, 1, 3), (1, 0, 1, 2))
 def number(quotient):
     assert is_quotient(quotient), quotient
     return Fraction(*quotient)
-
-
-def told(fraction):
-    return (fraction.numerator, fraction.denominator)
 
 
 def step(known, purses, ask):
@@ -56,38 +52,6 @@ def first_parted(known, asks):
             if there not in found:
                 return here, there
     return None
-
-
-def term(asks, bends, payer, payee, coins):
-    """What the ask adds to the gap."""
-    weights = {row[:3]: row[3] for row in asks}
-    bend = Fraction(*bends[payee]) / Fraction(*bends[payer])
-    return weights.get((payer, payee, coins), 0) - weights.get((payee, payer, coins), 0) * bend ** coins
-
-
-def gap(known, asks, bends, purses):
-    size = len(purses)
-    most_coins = max([row[2] for row in asks], default=0)
-    return sum((
-        term(asks, bends, payer, payee, coins)
-        for payer in range(size) for payee in range(size) if payer != payee
-        for coins in range(1, most_coins + 1) if moved(purses, payer, payee, coins) in known
-    ), Fraction(0))
-
-
-def random_bends(draw, size, greatest=5):
-    return tuple(told(Fraction(draw.randint(1, greatest), draw.randint(1, greatest))) for _ in range(size))
-
-
-def fitting_rows(draw, web, bends):
-    """Rows of asks that fit the bends, one coin both ways along each line among them."""
-    rows = []
-    pairs = [line[:2] for line in web[1]] + [tuple(draw.sample(range(web[0]), 2)) for _ in range(2)]
-    for place, (one, other) in enumerate(dict.fromkeys(pairs)):
-        coins = 1 if place < len(set(line[:2] for line in web[1])) else draw.randint(2, 3)
-        bend = (Fraction(*bends[other]) / Fraction(*bends[one])) ** coins
-        rows += [(one, other, coins, bend.numerator), (other, one, coins, bend.denominator)]
-    return rows
 
 
 def webs_solved(many, seed):

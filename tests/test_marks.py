@@ -5,8 +5,8 @@ import unittest
 from itertools import product
 
 from reckon import (
-    HUGE, RING, ROW, TWICE, clubs, forests, great_web, is_forest, most, purses_at, small_webs, some_standing,
-    splits, standings,
+    HUGE, RING, ROW, TWICE, clubs, forests, great_web, is_forest, purses_at, small_webs, some_standing, splits,
+    standings, told_paper,
 )
 from howeverled.errors import InvalidPaper
 from howeverled.marking import marked_of, standing_of
@@ -24,37 +24,6 @@ def marked_forests(web):
         marks for marks in splits(web)
         if is_forest(web, [line for line, mark in enumerate(marks) if mark])
     ]
-
-
-def told_paper(web, purses, root):
-    """The lines taken, word by word as it is told, with the most reckoned over all splits."""
-    size = web[0]
-    rows = [[line, one, other, room] for line, (one, other, room) in enumerate(web[1])]
-    held = list(purses)
-    host, met, told = root, {root}, []
-    while rows:
-        here = [row for row in rows if host in row[1:3]]
-        if not here:
-            host = min(set(range(size)) - met)
-            met.add(host)
-            continue
-        line, one, other, room = here[-1]
-        end = other if one == host else one
-        now = (size, tuple(tuple(row[1:]) for row in rows))
-        coins = most(standings(now), tuple(held), host, end)
-        if 1 <= coins <= room:
-            between = [row for row in rows if set(row[1:3]) == {host, end}]
-            held[host] += held[end] - sum(row[3] for row in between)
-            held[end] = 0
-            rows = [[row[0], *[host if house == end else house for house in row[1:3]], row[3]]
-                    for row in rows if row not in between]
-            met.add(end)
-            told.append((line, coins, coins))
-        else:
-            rows = [row for row in rows if row[0] != line]
-            held[end if coins == 0 else host] -= room
-            told.append((line, coins, 0))
-    return tuple(told)
 
 
 class Marks(unittest.TestCase):

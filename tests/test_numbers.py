@@ -4,7 +4,7 @@ import random
 import unittest
 
 from reckon import (
-    HUGE, RING, ROW, forests, great_web, most, small_webs, some_standing, standings,
+    HUGE, RING, ROW, forests, great_web, small_webs, some_standing, standings, told_paper, walk,
 )
 from howeverled.errors import NotUsable
 from howeverled.forestclasses import Forests
@@ -23,34 +23,23 @@ def weight_of(size, rows):
     return sum(weight for _, weight, _ in forests(web))
 
 
-def told_number(web, purses, root):
-    """The number, word by word as it is told, with the most reckoned over all splits."""
+def number_by_marks(web, marks, root):
+    """The number of a standing, word by word as it is told, by its marked forest."""
     size = web[0]
-    rows = [[line, one, other, room] for line, (one, other, room) in enumerate(web[1])]
-    held, host, met, number = list(purses), root, {root}, 0
-    while rows:
-        here = [row for row in rows if host in row[1:3]]
-        if not here:
-            host = min(set(range(size)) - met)
-            met.add(host)
-            continue
-        line, one, other, room = here[-1]
-        end = other if one == host else one
-        now = (size, tuple((one, other, room) for _, one, other, room in rows))
-        coins = most(standings(now), tuple(held), host, end)
-        without = [row for row in rows if row[0] != line]
-        if 1 <= coins <= room:
-            between = [row for row in rows if set(row[1:3]) == {host, end}]
-            held[host] += held[end] - sum(row[3] for row in between)
-            held[end] = 0
-            rows = [[row[0], *[host if house == end else house for house in row[1:3]], row[3]]
-                    for row in rows if row not in between]
-            met.add(end)
-            number += weight_of(size, without) + (coins - 1) * weight_of(size, rows)
-        else:
-            rows = without
-            held[end if coins == 0 else host] -= room
+    number = 0
+    for line, mark, before, rows in walk(web, root, lambda _, host, row: marks[row[0]]):
+        if mark:
+            without = [row for row in before if row[0] != line]
+            number += weight_of(size, without) + (mark - 1) * weight_of(size, rows)
     return number
+
+
+def told_number(web, purses, root):
+    """The number, with the most reckoned over all splits."""
+    marks = [0] * len(web[1])
+    for line, _, mark in told_paper(web, purses, root):
+        marks[line] = mark
+    return number_by_marks(web, marks, root)
 
 
 class Numbers(unittest.TestCase):
@@ -139,30 +128,6 @@ class Numbers(unittest.TestCase):
         self.assertEqual(len(all_standings(twice)), 225)
         row = list(standings_from(twice, 2))
         self.assertEqual([number_of(twice, purses, 2) for purses in row], list(range(225)))
-
-
-def number_by_marks(web, marks, root):
-    """The number of a standing by its marked forest alone."""
-    size = web[0]
-    rows = [[line, one, other, room] for line, (one, other, room) in enumerate(web[1])]
-    host, met, number = root, {root}, 0
-    while rows:
-        here = [row for row in rows if host in row[1:3]]
-        if not here:
-            host = min(set(range(size)) - met)
-            met.add(host)
-            continue
-        line, one, other, room = here[-1]
-        end = other if one == host else one
-        without = [row for row in rows if row[0] != line]
-        if marks[line]:
-            rows = [[row[0], *[host if house == end else house for house in row[1:3]], row[3]]
-                    for row in rows if set(row[1:3]) != {host, end}]
-            met.add(end)
-            number += weight_of(size, without) + (marks[line] - 1) * weight_of(size, rows)
-        else:
-            rows = without
-    return number
 
 
 class Objects(unittest.TestCase):

@@ -342,6 +342,9 @@ class All(unittest.TestCase):
         self.assertEqual((both_count(apart, 0, 2), neither_count(apart, 0, 2)), (0, 1))
         self.assertEqual((both_count(TWICE, 1, 0), neither_count(TWICE, 1, 0)), (2, 0))
         self.assertEqual(both_count((2, ((0, 1, HUGE),)), 0, 1), HUGE - 1)
+        web = (3, ((0, 1, 1), (1, 2, HUGE), (0, 2, HUGE)))
+        told = forest_weight(web) - 2 * forest_weight(made_one(web, 0, 1))
+        self.assertEqual((both_count(web, 0, 1), neither_count(web, 1, 0)), (told, 0))
 
 
 class Means(unittest.TestCase):
