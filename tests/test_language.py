@@ -224,6 +224,39 @@ class Form(unittest.TestCase):
                 if told == "map" or told == "iter" or told == "next":
                     self.wrong(name, node, told)
 
+    def test_library(self):
+        """What comes from the library is only called, by position; what makes rows of things is iterated at once."""
+        names = [one for told in LIBRARY.values() for one in told]
+        for name, _, tree, parents in self.each():
+            brought = {alias.name for node in tree.body if isinstance(node, ast.ImportFrom) and node.module in LIBRARY
+                       for alias in node.names}
+            for node in ast.walk(tree):
+                if not (isinstance(node, ast.Name) and node.id in names):
+                    continue
+                self.assertIn(node.id, brought, name)
+                call = parents[node]
+                if not (isinstance(call, ast.Call) and call.func is node) or call.keywords:
+                    self.wrong(name, node, "not called by position")
+                if any(isinstance(one, ast.Starred) for one in call.args):
+                    self.wrong(name, node, "a star")
+                if node.id in LIBRARY["itertools"]:
+                    parent = parents[call]
+                    if not (isinstance(parent, (ast.For, ast.comprehension)) and parent.iter is call):
+                        self.wrong(name, node, "not iterated at once")
+
+    def test_generators(self):
+        """No generator is a generator expression, and none has the name of another function."""
+        makers, others = [], []
+        for name, _, tree, _ in self.each():
+            for function in functions_in(tree):
+                yields = [one for one in ast.walk(function) if isinstance(one, (ast.Yield, ast.YieldFrom))]
+                (makers if yields else others).append(function.name)
+            for node in ast.walk(tree):
+                if isinstance(node, ast.GeneratorExp):
+                    self.wrong(name, node, "generator expression")
+        self.assertEqual(sorted(makers), ["all_splits", "standings_from", "stretch_of"])
+        self.assertEqual(set(makers) & set(others), set())
+
     def test_iterated_at_once(self):
         for name, _, tree, parents in self.each():
             for node in ast.walk(tree):
