@@ -4,7 +4,7 @@ from howeverled.quotients import quotient_of
 
 
 def solved(rows):
-    """The quotients that solve the equations, of which there is just one for each; so is the solution.
+    """The quotients that solve as many equations as there are quotients, of which there is just one solution.
 
     A row has the factor of each quotient, and last what they add up to.
     """
@@ -25,5 +25,5 @@ def solved(rows):
 
 
 def lessened_row(row, first, at, before):
-    """The row with nought at this place: as often as it takes, the first row is taken off it."""
+    """The row with the first row taken off it as often as gives nought at this place."""
     return [(first[at] * value - row[at] * taken) // before for value, taken in zip(row, first)]

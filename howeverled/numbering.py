@@ -79,13 +79,13 @@ def next_marks(web, marks, root):
     Numbers rise as the marks do, taken in the sequence in which the lines are
     taken: the last mark that can rise does, and all behind it begin anew.
     """
-    stages = stages_of(web, marks, root)
-    rising = [place for place, stage in enumerate(stages) if marks[stage[0]] < stage[-1]]
+    lines = [stage[0] for stage in stages_of(web, marks, root)]
+    rising = [place for place, line in enumerate(lines) if marks[line] < web[1][line][2]]
     if not rising:
         return None
     after = [0] * len(marks)
-    for line, _, _, _, _, _ in stages[:rising[-1]]:
+    for line in lines[:rising[-1]]:
         after[line] = marks[line]
-    line = stages[rising[-1]][0]
-    after[line] = marks[line] + 1
+    raised = lines[rising[-1]]
+    after[raised] = marks[raised] + 1
     return tuple(after)
