@@ -39,10 +39,15 @@ def need_pair(web, here, there):
     need(is_house(web[0], there) and there != here, "there")
 
 
-def need_payment(size, payer, payee, coins):
-    """The houses, below size, and the coins of a payment."""
+def need_payer(size, payer, payee):
+    """Two unlike houses below size, by the names payer and payee."""
     need(is_house(size, payer), "payer")
     need(is_house(size, payee) and payee != payer, "payee")
+
+
+def need_payment(size, payer, payee, coins):
+    """The houses, below size, and the coins of a payment."""
+    need_payer(size, payer, payee)
     need(is_positive(coins), "coins")
 
 

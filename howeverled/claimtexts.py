@@ -3,7 +3,7 @@
 from howeverled.checks import need
 from howeverled.claimkinds import CLAIMS_BEHIND, DEEPEST, is_claim
 from howeverled.errors import InvalidText
-from howeverled.webtexts import is_figures
+from howeverled.webtexts import field_at, number_from
 
 PLAIN_WORDS = ("pays", "shut", "holds")
 
@@ -73,18 +73,3 @@ def lot_from(size, fields, place):
     for at in range(place + 1, place + 1 + many):
         lot.append(number_from(fields, at, lot[-1] + 1 if lot else 0, size))
     return (tuple(lot), place + 1 + many)
-
-
-def number_from(fields, place, least, bound):
-    """The number at the place, at least the least and below the bound, if there is one."""
-    field = field_at(fields, place)
-    if not is_figures(field) or int(field) < least or (bound is not None and int(field) >= bound):
-        raise InvalidText(0, place)
-    return int(field)
-
-
-def field_at(fields, place):
-    """The field at the place, if there is one."""
-    if place == len(fields):
-        raise InvalidText(0, place)
-    return fields[place]

@@ -31,6 +31,11 @@ def is_tuple_of(many, thing):
     return isinstance(thing, tuple) and len(thing) == many
 
 
+def are_positive(thing):
+    """True for a tuple of integers of at least 1."""
+    return isinstance(thing, tuple) and all([is_positive(one) for one in thing])
+
+
 def are_below(size, thing):
     """True for a tuple of numbers below size."""
     return isinstance(thing, tuple) and all([is_number(one) and one < size for one in thing])

@@ -44,3 +44,13 @@ def lets_piece(thing):
         word, at = fault
         raise InvalidPaper(word, at)
     return len(inner_of(thing))
+
+
+def need_two_doors(thing, name):
+    """A piece with two doors, by this name."""
+    need(is_piece(thing) and len(thing[1]) == 2, name)
+
+
+def need_as_many_doors(piece, other):
+    """Another piece, with as many doors."""
+    need(is_piece(other) and len(other[1]) == len(piece[1]), "other")

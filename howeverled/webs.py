@@ -78,3 +78,8 @@ def clubs_by(size, lines):
 def hangs_together(web):
     """True if the web is one club."""
     return len(clubs_of(web)) == 1
+
+
+def pairs_of(size):
+    """Each two houses below size, the lesser one first, ascending."""
+    return [(here, there) for here in range(size) for there in range(here + 1, size)]

@@ -31,14 +31,14 @@ def text_of(size, rows):
 def read_web(text):
     """The web that the text tells."""
     need(isinstance(text, str), "text")
-    size, rows = read_sized(text, 3)
+    size, rows = read_sized(text.split(" "), 0, 1, 3)
     return (size, tuple(rows))
 
 
 def read_limits(text):
     """The web and the split that the text tells."""
     need(isinstance(text, str), "text")
-    size, rows = read_sized(text, 4)
+    size, rows = read_sized(text.split(" "), 0, 1, 4)
     lines = [(one, other, near + far) for one, other, near, far in rows]
     split = [near for _, _, near, _ in rows]
     return ((size, tuple(lines)), tuple(split))
@@ -51,11 +51,25 @@ def is_figures(field):
     return field == "0" or field[0] != "0"
 
 
-def read_sized(text, width):
-    """The size, and the rows of as many numbers as the width tells."""
-    fields = text.split(" ")
-    size, due = read_size(fields[0])
-    rows = read_rows(fields, 1, due, width, lambda rows, row, number: may_follow(size, width, row, number))
+def field_at(fields, place):
+    """The field at the place, if there is one."""
+    if place == len(fields):
+        raise InvalidText(0, place)
+    return fields[place]
+
+
+def number_from(fields, place, least, bound):
+    """The number at the place, at least the least and below the bound, if there is one."""
+    field = field_at(fields, place)
+    if not is_figures(field) or int(field) < least or (bound is not None and int(field) >= bound):
+        raise InvalidText(0, place)
+    return int(field)
+
+
+def read_sized(fields, start, least, width):
+    """The size, at least the least, told at the start, and the rows of as many numbers as the width tells."""
+    size, due = read_size(fields, start, least)
+    rows = read_rows(fields, start + 1, due, width, lambda rows, row, number: may_follow(size, width, row, number))
     return (size, rows)
 
 
@@ -83,12 +97,13 @@ def read_rows(fields, start, due, width, can_follow):
     return rows
 
 
-def read_size(field):
-    """The size, and whether a row is due behind it: then there are two houses."""
+def read_size(fields, place, least):
+    """The size at the place, and whether a row is due behind it: then there are two houses."""
+    field = field_at(fields, place)
     due = field.endswith(";")
     figures = field[:-1] if due else field
-    if not is_figures(figures) or int(figures) < (2 if due else 1):
-        raise InvalidText(0, 0)
+    if not is_figures(figures) or int(figures) < max(least, 2 if due else 1):
+        raise InvalidText(0, place)
     return (int(figures), due)
 
 

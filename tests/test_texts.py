@@ -4,6 +4,7 @@ import random
 import unittest
 from itertools import product
 
+from naming import spoilt
 from reckon import HUGE, RING, ROW, TWICE, great_web, small_webs, some_standing, splits
 from howeverled.errors import InvalidText, NotUsable
 from howeverled.webtexts import limits_line, read_limits, read_web, web_line
@@ -68,17 +69,9 @@ class Texts(unittest.TestCase):
         far = (HUGE, ((0, HUGE - 1, 10 ** 200),))
         self.assertEqual(read_web(web_line(far)), far)
 
-    def spoilt(self, read, known, text):
+    def judged(self, read, known, text):
         """A right text with one field spoilt, left out or put in, cut off or with more behind."""
-        fields = text.split(" ")
-        changed = [fields[:place] for place in range(1, len(fields))]
-        for place in range(len(fields) + 1):
-            changed += [fields[:place] + fields[place + 1:]] if place < len(fields) else []
-            for spoil in SPOILS:
-                changed.append(fields[:place] + [spoil] + fields[place:])
-                changed.append(fields[:place] + [spoil] + fields[place + 1:])
-        for one in changed:
-            spoil = " ".join(one)
+        for spoil in spoilt(text, SPOILS):
             right = tuple([*spoil.split(" "), None]) in known
             if right:
                 self.assertEqual(self.told(read(spoil)), spoil)
@@ -96,14 +89,14 @@ class Texts(unittest.TestCase):
         known = prefixes(texts)
         draw = random.Random(7)
         for text in draw.sample([text for text in texts if len(text.split(" ")) <= 7], 120):
-            self.spoilt(read_web, known, text)
+            self.judged(read_web, known, text)
 
     def test_spoilt_limits(self):
         texts = texts_of(4, 2)
         known = prefixes(texts)
         draw = random.Random(8)
         for text in draw.sample([text for text in texts if len(text.split(" ")) <= 5], 60):
-            self.spoilt(read_limits, known, text)
+            self.judged(read_limits, known, text)
 
     def test_told_fields(self):
         for text, field in (

@@ -9,7 +9,11 @@ from reckon import RING, ROW
 from howeverled.askchanges import asks_of
 from howeverled.errors import NotUsable
 from howeverled.forestclasses import Forests
+from howeverled.live import LiveWeb
+from howeverled.liveasks import LiveAsks
 from howeverled.momentclasses import Moment
+from howeverled.piececlasses import Piece
+from howeverled.planclasses import Plan
 from howeverled.runclasses import Run
 from howeverled.shareclasses import Shares
 from howeverled.webclasses import Web
@@ -74,12 +78,37 @@ WRONG = {
     "upward": (*BOTH, -1, 1, 2, (0,)),
     "doors": (None, (), [0, 2], (0, 0), (0, 3), (-1,), (True,), (0, None), 0, "0", ((0,),), (0, 1, 2, 0)),
     "places": (None, (), [1, 0], (1,), (0, 1, 2), (1, 1), (0, 3), (-1, 0), (True, 0), (0, None), 0, "01"),
+    "piece": (None, (), 3, ROW, (ROW,), [ROW, (0, 2)], (ROW, ()), (ROW, [0, 2]), (ROW, (0, 0)), (ROW, (0, 3)), (ROW, (True,)),
+              ((0, ()), (0,)), ((True, ()), (0,)), ((2, ((1, 0, 1),)), (0, 1)), (ROW, (0, None)), (None, (0, 2)), "P"),
+    "entries": (None, (), 5, "1", [6, 12], (0, 1), (6, -1), (6, True), (6, "1"), (6, None), ((6,), 12), True),
+    "door_table": (None, (), 5, [6, 12], (6,), (6, 12, 1), (0, 1), (6, -1), (6, True), (6, "1"), True),
+    "worth": (*BOTH, 1, (-1, 2), (2, 4), (0, 2), (1, 0), (1, -1), (1, True), (True, 1), [1, 2], (1, 2, 3)),
+    "above_nought": (*BOTH, 1, (0, 1), (-1, 2), (2, 4), (1, 0), (1, True), (True, 2), [1, 2]),
+    "chance": (*BOTH, 1, (1, 1), (3, 2), (-1, 2), (2, 4), (0, 2), (1, 0), (1, True), (False, 1), [1, 2]),
+    "inner_chance": (*BOTH, 1, (0, 1), (1, 1), (3, 2), (-1, 2), (2, 4), (1, 0), (True, 2), [1, 2]),
+    "lengths": (None, (), 3, True, [(0, 2)], (0, 2), ((0, 0),), ((0, -1),), ((-1, 1),), ((0, True),), ((False, 1),), ((0, 1, 1),),
+                ((0,),), ([0, 1],), ((1, 1), (0, 1)), ((1, 1), (1, 2)), ((0, 1), None)),
+    "purses_of_piece": (None, (), (2, 0), [2, 0, 3], (2, 0, 2), (0, 0, 5), (2, False, 3), (2, 0, 3, 0), 3),
+    "other_house": (*BOTH, -1, 2, 10 ** 30, (0,)),
+    "event": (None, (), "day", ["day"], ("days",), ("pay", 0, 0, 1), ("pay", 0, 1, 0), ("pay", 0, True, 1), (("day",),), ("day", 0)),
+    "events": (None, [], "day", ("day",), [("day",)], (("day",), None), (("pay", 0, 1, 0),), 3, True),
+    "cut": (*BOTH, -1, 2, (1,)),
+    "live": (None, (), 3, "live", True, ROW, Web(2), LiveAsks(ROW, (2, 0), "short")),
+    "some_places": (None, (), [1, 0], (1, 1), (0, 3), (-1, 0), (True, 0), (0, None), 0, "01", (0, 1, 2, 2)),
+    "size": (*BOTH, 0, -1, (1,)),
     "doors_joining": (None, (), (0,), (0, 0, 0), (1, 1), (0, 2), [0, 0], (0, True), (False, 0), 0, "00"),
 }
 
 ASKED = ((0, 1, 1, 3), (1, 0, 1, 2))
 BENDS = ((1, 1), (3, 2), (2, 5))
 PIECE = (ROW, (0, 2))
+LENGTHS = ((0, 2), (1, 2), (2, 2))
+FORM = (3, 1, 7, 3)
+LOG = (("day",),)
+# A web and another one, and a house of each.
+ENDS = (("web", ROW, None), ("here", 2, "house"), ("other", (2, ((0, 1, 1),)), "web"), ("there", 1, "other_house"))
+PAIR = (("here", 0, "house"), ("there", 1, "other"))
+PAYER = (("payer", 0, "house"), ("payee", 1, "other"))
 
 # Each function: its file, and the parameters with a right value and a kind; None where nothing is refused.
 CASES = (
@@ -267,6 +296,82 @@ CASES = (
     ("piecekinds", "lets_piece", (("thing", PIECE, None),)),
     ("gluing", "glued", (("piece", PIECE, None), ("other", RING, "web"), ("places", (1, 0), "places"))),
     ("gluing", "doors_made", (("piece", PIECE, None), ("joining", (0, 0), "doors_joining"))),
+    ("doortables", "is_table", (("many", 2, None), ("thing", None, None))),
+    ("doortables", "door_table", (("piece", PIECE, None),)),
+    ("doortables", "factor_of", (("table", (6, 12), "entries"), ("other", (3, 6), "entries"))),
+    ("doortables", "glued_weight", (("web", RING, None), ("places", (1, 0), "some_places"), ("table", (6, 12), "door_table"))),
+    ("worths", "worth_of", (("piece", PIECE, "piece"),)),
+    ("worths", "chance_of", (("piece", PIECE, "piece"),)),
+    ("worths", "worth_beside", (("one", (1, 2), "worth"), ("other", (3, 1), "worth"))),
+    ("worths", "worth_behind", (("one", (1, 2), "worth"), ("other", (3, 1), "worth"))),
+    ("worths", "chance_by", (("worth", (1, 2), "worth"),)),
+    ("worths", "worth_by", (("chance", (1, 2), "chance"),)),
+    ("joinedpieces", "piece_beside", (("piece", PIECE, "piece"), ("other", PIECE, "piece"))),
+    ("joinedpieces", "piece_behind", (("piece", PIECE, "piece"), ("other", PIECE, "piece"))),
+    ("ladders", "row_rooms", (("chance", (1, 2), "inner_chance"),)),
+    ("ladders", "row_piece", (("rooms", (1, 2), None),)),
+    ("ladders", "ladder_of", (("worth", (3, 2), "above_nought"),)),
+    ("lengths", "length_at", (("piece", PIECE, "piece"), ("purses", (2, 0, 3), "purses_of_piece"))),
+    ("lengths", "length_table", (("piece", PIECE, "piece"),)),
+    ("lengthtables", "is_lengths", (("thing", None, None),)),
+    ("lengthtables", "table_beside", (("one", LENGTHS, "lengths"), ("other", LENGTHS, "lengths"))),
+    ("lengthtables", "table_behind", (("one", LENGTHS, "lengths"), ("other", LENGTHS, "lengths"))),
+    ("lengthtables", "mean_length", (("table", LENGTHS, "lengths"),)),
+    ("lengthtables", "weight_by", (("table", LENGTHS, "lengths"),)),
+    ("lengthtables", "lengths_alike", (("table", LENGTHS, "lengths"), ("other", LENGTHS, "lengths"))),
+    ("swaps", "alike_one", (("piece", PIECE, None), ("other", PIECE, "piece"))),
+    ("swaps", "alike_always", (("piece", PIECE, "piece"), ("other", PIECE, "piece"))),
+    ("swaps", "first_apart", (("piece", PIECE, "piece"), ("other", PIECE, "piece"))),
+    ("partings", "parted_web", (("piece", PIECE, None), ("joining", (0, 0), "doors_joining"))),
+    ("partings", "parting_of", (("piece", PIECE, None), ("other", PIECE, "piece"))),
+    ("partings", "lets_parting", (("piece", PIECE, None), ("other", ((2, ()), (0, 1)), "piece"), ("thing", ((0, 1), 0, 1), None))),
+    ("throughs", "refused_through", (("web", ROW, None), *PAIR, ("table", LENGTHS, "lengths"), *PAYER, ("coins", 1, "coins"))),
+    ("throughs", "total_through", (("web", ROW, None), *PAIR, ("table", LENGTHS, "lengths"))),
+    ("throughs", "quiet_room", (("piece", PIECE, "piece"), ("purses", (2, 0, 3), "purses_of_piece"))),
+    ("throughs", "quiet_web", (("web", ROW, None), *PAIR, ("piece", PIECE, "piece"), ("purses", (2, 0, 3), "purses_of_piece"))),
+    ("piecetexts", "piece_line", (("piece", PIECE, None),)),
+    ("piecetexts", "read_piece", (("text", "doors 0 2 | 3; 0 1 2; 1 2 3", "text"),)),
+    ("openforms", "is_form", (("thing", None, None),)),
+    ("openforms", "share_form", (("web", ROW, None), *PAIR, *PAYER)),
+    ("openforms", "share_at", (("form", FORM, None), ("room", 4, "room"))),
+    ("openforms", "sign_of", (("form", FORM, None),)),
+    ("openforms", "least_room", (("form", FORM, None), ("wish", (2, 5), "quotient"))),
+    ("openforms", "end_of", (("form", FORM, None),)),
+    ("signtables", "sign_table", (("web", ROW, None), *PAIR)),
+    ("signtables", "unfelt", (("web", ROW, None), *PAIR)),
+    ("pouring", "poured", (("rooms", (0, 2, 0), None), ("many", 3, "room"))),
+    ("pouring", "pour_row", (("rooms", (0, 2, 0), None),)),
+    ("pouring", "pour_star", (("rooms", (0, 2, 0), None),)),
+    ("pouring", "coins_for", (("rooms", (0, 2, 0), None), ("wish", (2, 5), "quotient"))),
+    ("pourwebs", "row_web", (("rooms", (0, 2, 0), None),)),
+    ("pourwebs", "star_web", (("rooms", (0, 2, 0), None),)),
+    ("pourpapers", "pour_paper", (("rooms", (0, 2, 0), None), ("many", 3, "room"))),
+    ("pourpapers", "lets_pouring", (("rooms", (0, 2, 0), None), ("thing", (0, 2), None))),
+    ("crossings", "cut_houses", (("web", ROW, None),)),
+    ("crossings", "chance_of_pair", (("web", ROW, None), *PAYER)),
+    ("crossings", "chance_row", (("web", ROW, None), *PAYER)),
+    ("crossings", "chance_by_row", (("web", ROW, None), *PAYER)),
+    ("bridges", "bridged", (*ENDS, ("room", 3, "room"))),
+    ("bridges", "shared", ENDS),
+    ("bridges", "bridged_chance", (*ENDS, ("room", 3, "room"), ("payer", 1, "house"), ("payee", 0, "other_house"))),
+    ("bestlines", "pair_sum", (("web", ROW, None),)),
+    ("bestlines", "gain_table", (("web", ROW, None), ("room", 3, "room"))),
+    ("bestlines", "best_line", (("web", ROW, None), ("room", 3, "room"))),
+    ("bestlines", "loss_table", (("web", ROW, None),)),
+    ("planclasses", "Plan", (("web", ROW, "web"),)),
+    ("liveevents", "is_event", (("thing", None, None),)),
+    ("liveevents", "is_log", (("thing", None, None),)),
+    ("reasons", "reason_of", (("web", ROW, None), ("purses", (2, 0, 3), "standing"), ("event", ("day",), None))),
+    ("stepping", "step_of", (("web", ROW, None), ("split", (2, 0), "split"), ("event", ("day",), None), ("rule", "wide", "rule"))),
+    ("live", "LiveWeb", (("size", 3, "size"), ("rule", "wide", "rule"))),
+    ("replaying", "replayed", (("size", 3, None), ("rule", "wide", "rule"), ("log", LOG, "log"))),
+    ("replaying", "cut_log", (("log", LOG, "events"), ("many", 1, "cut"))),
+    ("journals", "days_of", (("size", 3, None), ("rule", "wide", "rule"), ("log", LOG, "log"))),
+    ("eventtexts", "event_line", (("event", ("pay", 0, 1, 2), "event"),)),
+    ("eventtexts", "log_text", (("log", LOG, "events"),)),
+    ("eventtexts", "read_event", (("text", "pay 0 1 2", "text"),)),
+    ("eventtexts", "read_log", (("text", "pay 0 1 2", "text"),)),
+    ("desk", "desk_line", (("live", LiveWeb(3, "wide"), "live"), ("text", "purses", "text"))),
     ("kinds", "is_integer", (("thing", None, None),)),
     ("kinds", "is_number", (("thing", None, None),)),
     ("kinds", "is_quotient", (("thing", None, None),)),
@@ -341,11 +446,28 @@ class WrongInputs(unittest.TestCase):
                      "claim": ["claim"], "total": []},
             Run: {"long_shares": [], "refused": ["payer", "payee", "coins"], "fits": ["bends"],
                   "wait": ["payer", "payee", "coins"], "back": []},
+            Piece: {"worth": [], "table": [], "lengths": [], "beside": ["other"], "behind": ["other"], "like": ["other"], "told": []},
+            Plan: {"form": ["here", "there", "payer", "payee"], "best": ["room"], "total_chance": [],
+                   "with_new": ["here", "there", "room"], "__eq__": ["other"]},
+            LiveAsks: {"web_now": [], "split_now": [], "purses_now": [], "rule_now": [], "can": ["payer", "payee", "coins"],
+                       "most": ["here", "there"], "reach": ["house"], "span": ["line"], "chance": ["payer", "payee"],
+                       "asked": ["claim"]},
+            LiveWeb: {"go": ["event"], "barred": ["event"], "add_house": [], "add_line": ["one", "other", "near", "far"],
+                      "widen": ["line", "near", "far"], "narrow": ["line", "near", "far"], "close": ["line", "near"],
+                      "pay": ["payer", "payee", "coins"], "turn": ["house", "ring", "coins"], "follow": ["rule"], "day": [],
+                      "do_all": ["events", "keep"], "undo": ["steps"], "tried": ["events"], "log": [], "tally": [],
+                      "refusals": [], "leadings": []},
         }
         for made, methods in listed.items():
             for name, words in methods.items():
                 told = list(inspect.signature(vars(made)[name]).parameters)
                 self.assertEqual(told, ["self", *words])
+
+    def test_classes_stand_in_their_files(self):
+        for made, name, words in ((Piece, "piececlasses", ["web", "doors"]), (Plan, "planclasses", ["web"]),
+                                  (LiveAsks, "liveasks", ["web", "split", "rule"]), (LiveWeb, "live", ["size", "rule"])):
+            self.assertEqual((made.__module__, list(inspect.signature(made).parameters)), ("howeverled." + name, words))
+        self.assertEqual(LiveWeb.__bases__, (LiveAsks,))
 
     def refusals_of(self, *cases):
         """Each method names what is wrong, and of two the first one."""
